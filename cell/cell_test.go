@@ -8,6 +8,7 @@ import (
 
 	"stylus/api"
 	"stylus/cell"
+	"stylus/trial"
 )
 
 // signs is the document's row, written out here, so that no test leans on the program's own.
@@ -37,26 +38,6 @@ func cellOf(dots string) (byte, bool) {
 	return 0, false
 }
 
-// eachText hands on all texts of at most that many bytes of the alphabet, the text of no bytes first.
-func eachText(alphabet string, most int, check func(s string)) {
-	texts := []string{""}
-	for size := 0; size <= most; size++ {
-		var longer []string
-		for _, s := range texts {
-			check(s)
-			for i := 0; i < len(alphabet); i++ {
-				longer = append(longer, s+alphabet[i:i+1])
-			}
-		}
-		texts = longer
-	}
-}
-
-// shown is as much of a text as a failure should print.
-func shown(s string) string {
-	return s[:min(len(s), 40)]
-}
-
 // row is the cells, or bytes, from first to last.
 func row(first, last int) string {
 	var l []byte
@@ -71,7 +52,7 @@ func row(first, last int) string {
 func checkOf(t *testing.T, dots string, want byte, ok bool) {
 	t.Helper()
 	if c, is := cell.Of(dots); c != want || is != ok {
-		t.Fatalf("Of(%q) = %d, %v, want %d, %v", shown(dots), c, is, want, ok)
+		t.Fatalf("Of(%q) = %d, %v, want %d, %v", trial.Shown(dots), c, is, want, ok)
 	}
 }
 
@@ -97,12 +78,14 @@ func TestOfEachCell(t *testing.T) {
 }
 
 func TestOfShortTexts(t *testing.T) {
-	check := func(s string) {
+	for s := range trial.Texts("123456", 5) {
 		want, ok := cellOf(s)
 		checkOf(t, s, want, ok)
 	}
-	eachText("123456", 5, check)
-	eachText("0156789/: -a\x00\xff", 3, check)
+	for s := range trial.Texts("0156789/: -a\x00\xff", 3) {
+		want, ok := cellOf(s)
+		checkOf(t, s, want, ok)
+	}
 }
 
 // One byte that is no dot's digit, at any place, and there is no cell.
@@ -149,7 +132,7 @@ func TestDotsOfEachByte(t *testing.T) {
 func checkParse(t *testing.T, s, want string, place int, err api.Errno) {
 	t.Helper()
 	if cells, at, e := cell.Parse(s); cells != want || at != place || e != err {
-		t.Fatalf("Parse(%q) = %v, %d, %d, want %v, %d, %d", shown(s), []byte(cells), at, e, []byte(want), place, err)
+		t.Fatalf("Parse(%q) = %v, %d, %d, want %v, %d, %d", trial.Shown(s), []byte(cells), at, e, []byte(want), place, err)
 	}
 }
 
@@ -216,18 +199,20 @@ func parse(s string) (string, int, api.Errno) {
 }
 
 func TestParseShortTexts(t *testing.T) {
-	check := func(s string) {
+	for s := range trial.Texts("12-", 10) {
 		want, place, err := parse(s)
 		checkParse(t, s, want, place, err)
 	}
-	eachText("12-", 10, check)
-	eachText("16-0x", 5, check)
+	for s := range trial.Texts("16-0x", 5) {
+		want, place, err := parse(s)
+		checkParse(t, s, want, place, err)
+	}
 }
 
 func checkPrint(t *testing.T, cells, want string, err api.Errno) {
 	t.Helper()
 	if s, e := cell.Print(cells); s != want || e != err {
-		t.Fatalf("Print(%v) = %q, %d, want %q, %d", []byte(shown(cells)), s, e, want, err)
+		t.Fatalf("Print(%v) = %q, %d, want %q, %d", []byte(trial.Shown(cells)), s, e, want, err)
 	}
 }
 
@@ -320,7 +305,7 @@ func TestFromEachByte(t *testing.T) {
 func checkSigns(t *testing.T, cells, want string, err api.Errno) {
 	t.Helper()
 	if s, e := cell.Signs(cells); s != want || e != err {
-		t.Fatalf("Signs(%v) = %q, %d, want %q, %d", []byte(shown(cells)), shown(s), e, shown(want), err)
+		t.Fatalf("Signs(%v) = %q, %d, want %q, %d", []byte(trial.Shown(cells)), trial.Shown(s), e, trial.Shown(want), err)
 	}
 }
 
@@ -345,7 +330,7 @@ func TestSignsOfBytesThatAreNoCell(t *testing.T) {
 func checkCells(t *testing.T, s, want string, place int, err api.Errno) {
 	t.Helper()
 	if cells, at, e := cell.Cells(s); cells != want || at != place || e != err {
-		t.Fatalf("Cells(%q) = %v, %d, %d, want %v, %d, %d", shown(s), []byte(shown(cells)), at, e, []byte(shown(want)), place, err)
+		t.Fatalf("Cells(%q) = %v, %d, %d, want %v, %d, %d", trial.Shown(s), []byte(trial.Shown(cells)), at, e, []byte(trial.Shown(want)), place, err)
 	}
 }
 
@@ -380,7 +365,7 @@ func TestCellsOfBytesThatAreNoSign(t *testing.T) {
 func checkCount(t *testing.T, cells string, want int) {
 	t.Helper()
 	if n := cell.Count(cells); n != want {
-		t.Fatalf("Count(%v) = %d, want %d", []byte(shown(cells)), n, want)
+		t.Fatalf("Count(%v) = %d, want %d", []byte(trial.Shown(cells)), n, want)
 	}
 }
 
@@ -429,49 +414,53 @@ func TestNothingBesideAnErrorOrFalse(t *testing.T) {
 
 // P2.6
 
-func TestPrintedAndParsed(t *testing.T) {
-	check := func(cells string) {
-		s, e := cell.Print(cells)
-		if e != api.OK {
-			if cells != "" && !strings.Contains(cells, "\x00") {
-				t.Fatalf("%v has no text", []byte(cells))
-			}
-			return
-		}
+func checkPrintedAndParsed(t *testing.T, cells string) {
+	t.Helper()
+	s, e := cell.Print(cells)
+	if e == api.OK {
 		checkParse(t, s, cells, 0, api.OK)
+	} else if cells != "" && !strings.Contains(cells, "\x00") {
+		t.Fatalf("%v has no text", []byte(cells))
 	}
-	eachText(row(0, 63), 2, check)
-	eachText("\x00\x01\x08\x20\x2a\x3f", 4, check)
+}
+
+func TestPrintedAndParsed(t *testing.T) {
+	for cells := range trial.Texts(row(0, 63), 2) {
+		checkPrintedAndParsed(t, cells)
+	}
+	for cells := range trial.Texts("\x00\x01\x08\x20\x2a\x3f", 4) {
+		checkPrintedAndParsed(t, cells)
+	}
 }
 
 func TestParsedAndPrinted(t *testing.T) {
 	parsed := 0
-	eachText("136-", 8, func(s string) {
+	for s := range trial.Texts("136-", 8) {
 		if cells, _, e := cell.Parse(s); e == api.OK {
 			parsed++
 			checkPrint(t, cells, s, api.OK)
 		}
-	})
+	}
 	if parsed == 0 {
 		t.Fatal("no text was parsed")
 	}
 }
 
 func TestSignsAndCellsThereAndBack(t *testing.T) {
-	eachText(row(0, 63), 2, func(cells string) {
+	for cells := range trial.Texts(row(0, 63), 2) {
 		s, e := cell.Signs(cells)
 		if e != api.OK || len(s) != len(cells) {
 			t.Fatalf("Signs(%v) = %q, %d", []byte(cells), s, e)
 		}
 		checkCells(t, s, cells, 0, api.OK)
-	})
-	eachText(signs, 2, func(s string) {
+	}
+	for s := range trial.Texts(signs, 2) {
 		cells, _, e := cell.Cells(s)
 		if e != api.OK || len(s) != len(cells) {
 			t.Fatalf("Cells(%q) = %v, %d", s, []byte(cells), e)
 		}
 		checkSigns(t, cells, s, api.OK)
-	})
+	}
 }
 
 func TestSignAndFromThereAndBack(t *testing.T) {

@@ -7,6 +7,7 @@ import (
 
 	"stylus/api"
 	"stylus/chars"
+	"stylus/trial"
 )
 
 // Each class's bytes are written out here, so that no test leans on the program's own table.
@@ -44,21 +45,6 @@ func lowOf(s string) string {
 		out = append(out, c)
 	}
 	return string(out)
-}
-
-// eachText hands on all texts of at most that many bytes of the alphabet, the text of no bytes first.
-func eachText(alphabet string, most int, check func(s string)) {
-	texts := []string{""}
-	for size := 0; size <= most; size++ {
-		var longer []string
-		for _, s := range texts {
-			check(s)
-			for i := 0; i < len(alphabet); i++ {
-				longer = append(longer, s+alphabet[i:i+1])
-			}
-		}
-		texts = longer
-	}
 }
 
 // run is what Runs tells of one run.
@@ -248,11 +234,11 @@ func caseOf(s string) int {
 }
 
 func TestCaseOfShortTexts(t *testing.T) {
-	eachText("amzAMZ", 4, func(s string) {
+	for s := range trial.Texts("amzAMZ", 4) {
 		if got, want := chars.Case(s), caseOf(s); got != want {
 			t.Errorf("Case(%q) = %d, want %d", s, got, want)
 		}
-	})
+	}
 }
 
 // One byte that is no letter, at any place, and the text has no case.
@@ -349,11 +335,6 @@ func TestRunsWithinRuns(t *testing.T) {
 
 // P1.5
 
-// shown is as much of a text as a failure should print.
-func shown(s string) string {
-	return s[:min(len(s), 40)]
-}
-
 // checkParted looks whether runs are the text, each of one class, and unlike the one ahead.
 func checkParted(t *testing.T, s string) {
 	t.Helper()
@@ -361,27 +342,29 @@ func checkParted(t *testing.T, s string) {
 	ahead := -1
 	for at, text := range chars.Runs(s) {
 		if at != end || text == "" || !strings.HasPrefix(s[end:], text) {
-			t.Fatalf("%q: run %q at %d, where %d bytes are told", shown(s), shown(text), at, end)
+			t.Fatalf("%q: run %q at %d, where %d bytes are told", trial.Shown(s), trial.Shown(text), at, end)
 		}
 		class := classOf(text[0])
 		if class == ahead {
-			t.Fatalf("%q: the run at %d is of the class of the one ahead", shown(s), at)
+			t.Fatalf("%q: the run at %d is of the class of the one ahead", trial.Shown(s), at)
 		}
 		for i := 1; i < len(text); i++ {
 			if classOf(text[i]) != class {
-				t.Fatalf("%q: the run at %d is of two classes", shown(s), at)
+				t.Fatalf("%q: the run at %d is of two classes", trial.Shown(s), at)
 			}
 		}
 		end += len(text)
 		ahead = class
 	}
 	if end != len(s) {
-		t.Fatalf("%q: its runs end at %d", shown(s), end)
+		t.Fatalf("%q: its runs end at %d", trial.Shown(s), end)
 	}
 }
 
 func TestPartedShortTexts(t *testing.T) {
-	eachText("azB7./ \n{\xff", 4, func(s string) { checkParted(t, s) })
+	for s := range trial.Texts("azB7./ \n{\xff", 4) {
+		checkParted(t, s)
+	}
 }
 
 func TestPartedPairsOfBytes(t *testing.T) {
@@ -410,11 +393,11 @@ func TestLoweredTwiceIsLoweredOnce(t *testing.T) {
 			t.Errorf("%#x lowered twice is %#x", c, chars.Lower(once))
 		}
 	}
-	eachText("aZ1. \n{\xc1", 4, func(s string) {
+	for s := range trial.Texts("aZ1. \n{\xc1", 4) {
 		if once := chars.Low(s); chars.Low(once) != once {
 			t.Errorf("%q lowered twice is %q", s, chars.Low(once))
 		}
-	})
+	}
 }
 
 func TestSmallOneHasItsCapital(t *testing.T) {
@@ -428,11 +411,11 @@ func TestSmallOneHasItsCapital(t *testing.T) {
 }
 
 func TestLowOfLettersIsLower(t *testing.T) {
-	eachText("amzAMZ", 4, func(s string) {
+	for s := range trial.Texts("amzAMZ", 4) {
 		if got := chars.Case(chars.Low(s)); s != "" && got != api.CaseLower {
 			t.Errorf("Case of Low(%q) = %d", s, got)
 		}
-	})
+	}
 	if got := chars.Case(chars.Low(capitals + smalls)); got != api.CaseLower {
 		t.Errorf("Case of all letters, lowered = %d", got)
 	}
