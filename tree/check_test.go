@@ -1,7 +1,6 @@
 package tree_test
 
 import (
-	"iter"
 	"math"
 	"slices"
 	"strings"
@@ -20,14 +19,14 @@ func node(kind byte, text string, size int) api.Node {
 func checkCheck(t *testing.T, l []api.Node, want api.Errno) {
 	t.Helper()
 	if e := tree.Check(l); e != want {
-		t.Fatalf("Check(%s) = %d, want %d", trial.Shown(show(l)), e, want)
+		t.Fatalf("Check(%s) = %d, want %d", trial.Shown(trial.Nodes(l)), e, want)
 	}
 }
 
 // checkLoose asks for the error of a source's row, whether or not it may be.
 func checkLoose(t *testing.T, s string, want api.Errno) {
 	t.Helper()
-	s += ends(s)
+	s += trial.Ends(s)
 	if e := tree.Check(loose(s)); e != want {
 		t.Fatalf("Check of %q = %d, want %d", trial.Shown(s), e, want)
 	}
@@ -55,13 +54,13 @@ func TestCheckExamples(t *testing.T) {
 func TestCheckNothing(t *testing.T) {
 	checkCheck(t, nil, api.OK)
 	checkCheck(t, []api.Node{}, api.OK)
-	checkCheck(t, must(t, rich)[:0], api.OK)
+	checkCheck(t, must(t, trial.Rich)[:0], api.OK)
 }
 
 // Places count for nothing.
 func TestCheckPlaces(t *testing.T) {
 	for _, at := range []int{0, -1, 5, math.MaxInt, math.MinInt} {
-		l := must(t, rich)
+		l := must(t, trial.Rich)
 		for i := range l {
 			l[i].At = at * (i%2 + 1)
 		}
@@ -73,7 +72,7 @@ func TestCheckPlaces(t *testing.T) {
 
 // Each node of a row has a Size that fits just as it is.
 func TestCheckSizes(t *testing.T) {
-	l := must(t, rich)
+	l := must(t, trial.Rich)
 	for i := range l {
 		for _, size := range []int{0, -1, math.MinInt, math.MinInt + i, math.MaxInt, math.MaxInt - i, len(l) - i + 1, len(l) + 1, l[i].Size + len(l), -l[i].Size} {
 			other := slices.Clone(l)
@@ -91,7 +90,7 @@ func TestCheckSizes(t *testing.T) {
 
 // Rows that are cut off, or whose ahead is, are none, if that is within a node.
 func TestCheckPartsOfRows(t *testing.T) {
-	l := must(t, rich)
+	l := must(t, trial.Rich)
 	for i := range l {
 		checkCheck(t, l[:i], checked(l[:i]))
 		checkCheck(t, l[i:], checked(l[i:]))
@@ -116,7 +115,7 @@ func TestCheckTexts(t *testing.T) {
 	checkCheck(t, []api.Node{node('p', "", 3), node('.', "a", 2), node('.', "b", 1)}, api.ErrForm)
 	checkCheck(t, []api.Node{node('p', "", 3), node('.', "a", 2), node('e', "", 1)}, api.ErrForm)
 	checkCheck(t, []api.Node{node('p', "", 3), node('.', "a", 1), node('.', "b", 1)}, api.OK)
-	l := must(t, rich)
+	l := must(t, trial.Rich)
 	for i, x := range l {
 		if x.Kind == '.' {
 			l[i].Text = ""
@@ -157,8 +156,8 @@ func TestCheckEachByteOfATextNode(t *testing.T) {
 // Each kind, and text, stands in those that the table names, and in no other one.
 func TestCheckEachKindInEachOther(t *testing.T) {
 	for outer, ahead := range around {
-		for i := range len(kinds) {
-			inner := kinds[i]
+		for i := range len(trial.Kinds) {
+			inner := trial.Kinds[i]
 			checkLoose(t, ahead+"{"+lex.Name(inner)+needs[inner], okIf(mayStand(outer, inner)))
 		}
 	}
@@ -201,9 +200,9 @@ func TestCheckDepth(t *testing.T) {
 		}
 		checkLoose(t, lists(n), want)
 		checkLoose(t, "{k}"+lists(n)+"a{e{s{n", want)
-		checkLoose(t, "{l{i}{i"+lists(n-1)+ends(lists(n-1))+lists(n-1), want)
+		checkLoose(t, "{l{i}{i"+lists(n-1)+trial.Ends(lists(n-1))+lists(n-1), want)
 	}
-	checkLoose(t, strings.Repeat(lists(8)+ends(lists(8)), 3), api.OK)
+	checkLoose(t, strings.Repeat(lists(8)+trial.Ends(lists(8)), 3), api.OK)
 }
 
 func TestCheckNodes(t *testing.T) {
@@ -241,7 +240,7 @@ func TestCheckSeveralErrors(t *testing.T) {
 		e api.Errno
 	}{
 		{loose("{l}"), api.ErrForm},
-		{loose(lists(9) + ends(lists(9))), api.ErrDepth},
+		{loose(lists(9) + trial.Ends(lists(9))), api.ErrDepth},
 		{loose("{p{n " + long(61) + "}}"), api.ErrBound},
 		{loose(blank(2001)), api.ErrBound},
 		{loose("{k}"), api.OK},
@@ -274,48 +273,18 @@ func TestCheckLargeRows(t *testing.T) {
 	}
 }
 
-// rows goes over all rows of at most so many nodes, each one of those given.
-func rows(of []api.Node, most int) iter.Seq[[]api.Node] {
-	return func(yield func([]api.Node) bool) {
-		places := ""
-		for i := range of {
-			places += string([]byte{byte(i)})
-		}
-		for s := range trial.Texts(places, most) {
-			l := make([]api.Node, len(s))
-			for i := range len(s) {
-				l[i] = of[s[i]]
-			}
-			if !yield(l) {
-				return
-			}
-		}
-	}
-}
-
-// every is a node of each of some kinds, of each size up to one, with that text.
-func every(kinds, text string, most int) []api.Node {
-	var l []api.Node
-	for _, kind := range []byte(kinds) {
-		for size := range most + 1 {
-			l = append(l, node(kind, text, size))
-		}
-	}
-	return l
-}
-
 func TestCheckShortRows(t *testing.T) {
 	may := 0
 	for _, x := range []struct {
 		of   []api.Node
 		most int
 	}{
-		{slices.Concat(every("pinq", "", 4), every(".", "a", 2), every(".p", " ", 2), every(".", "", 1), every(".", "~", 1)), 3},
-		{slices.Concat(every("pen", "", 4)[1:], every(".", "a", 1)[1:]), 4},
-		{slices.Concat(every("li", "", 5), every("e", "", 1)[1:]), 4},
-		{every("trc", "", 4), 4},
+		{slices.Concat(trial.Every("pinq", "", 4), trial.Every(".", "a", 2), trial.Every(".p", " ", 2), trial.Every(".", "", 1), trial.Every(".", "~", 1)), 3},
+		{slices.Concat(trial.Every("pen", "", 4)[1:], trial.Every(".", "a", 1)[1:]), 4},
+		{slices.Concat(trial.Every("li", "", 5), trial.Every("e", "", 1)[1:]), 4},
+		{trial.Every("trc", "", 4), 4},
 	} {
-		for l := range rows(x.of, x.most) {
+		for l := range trial.Rows(x.of, x.most) {
 			want := checked(l)
 			if want == api.OK {
 				may++
@@ -330,7 +299,7 @@ func TestCheckShortRows(t *testing.T) {
 
 // A row with one node for another, of any kind and size.
 func TestCheckSpoiltRows(t *testing.T) {
-	l := must(t, rich)
+	l := must(t, trial.Rich)
 	for i, x := range l {
 		for kind := range 128 {
 			l[i].Kind = byte(kind)
@@ -352,7 +321,7 @@ func TestCheckSpoiltRows(t *testing.T) {
 
 // One row behind the other is a tree that may be, if both are.
 func TestCheckJoined(t *testing.T) {
-	l := must(t, rich)
+	l := must(t, trial.Rich)
 	checkCheck(t, slices.Concat(l, l), api.OK)
 	checkCheck(t, slices.Concat(l, l, []api.Node{node('i', "", 1)}), api.ErrForm)
 	checkCheck(t, slices.Repeat(l, 2000/len(l)), api.OK)

@@ -1,7 +1,6 @@
 package tree_test
 
 import (
-	"fmt"
 	"slices"
 	"strings"
 	"testing"
@@ -12,17 +11,6 @@ import (
 	"stylus/tree"
 	"stylus/trial"
 )
-
-// rich has each kind, and each kind of white that is nothing.
-const rich = "{h1 A{n x{s y}}b}\n{h2}{h3\n\n}{p a b{e c{s d{n e}}}f} {k\n}{l \n{i a {l{i b{n z}} \n{i}}{l{i c{s d}}} }\n{i}} {t{r{c a}{c b{e x}}}\n{r {c}{c d}} }{p{s{e !}}{e?}}\n"
-
-func show(t []api.Node) string {
-	var parts []string
-	for _, x := range t {
-		parts = append(parts, fmt.Sprintf("%c%d%s", x.Kind, x.Size, x.Text))
-	}
-	return strings.Join(parts, " ")
-}
 
 func must(t *testing.T, s string) []api.Node {
 	t.Helper()
@@ -35,7 +23,7 @@ func must(t *testing.T, s string) []api.Node {
 
 func checkParse(t *testing.T, s, want string) {
 	t.Helper()
-	if got := show(must(t, s)); got != want {
+	if got := trial.Nodes(must(t, s)); got != want {
 		t.Fatalf("Parse(%q) = %s, want %s", trial.Shown(s), got, want)
 	}
 }
@@ -44,7 +32,7 @@ func checkParse(t *testing.T, s, want string) {
 func checkWrong(t *testing.T, s string, place int, err api.Errno) {
 	t.Helper()
 	if l, at, e := tree.Parse(s); len(l) != 0 || at != place || e != err {
-		t.Fatalf("Parse(%q) = %s, %d, %d, want %d, %d", trial.Shown(s), trial.Shown(show(l)), at, e, place, err)
+		t.Fatalf("Parse(%q) = %s, %d, %d, want %d, %d", trial.Shown(s), trial.Shown(trial.Nodes(l)), at, e, place, err)
 	}
 }
 
@@ -54,29 +42,8 @@ func checkWords(t *testing.T, s string) {
 	want, place, err := parsed(s)
 	l, at, e := tree.Parse(s)
 	if !slices.Equal(l, want) || at != place || e != err {
-		t.Fatalf("Parse(%q) = %s, %d, %d, want %s, %d, %d", trial.Shown(s), show(l), at, e, show(want), place, err)
+		t.Fatalf("Parse(%q) = %s, %d, %d, want %s, %d, %d", trial.Shown(s), trial.Nodes(l), at, e, trial.Nodes(want), place, err)
 	}
-}
-
-// written is a source of letters, each for a piece: a kind's for its opening.
-func written(pieces string) string {
-	s := ""
-	for i := range len(pieces) {
-		switch c := pieces[i]; {
-		case strings.IndexByte(kinds, c) >= 0:
-			s += "{" + lex.Name(c)
-		case c == '.':
-			s += "a"
-		default:
-			s += string(rune(c))
-		}
-	}
-	return s
-}
-
-// ends closes what a source leaves open.
-func ends(s string) string {
-	return strings.Repeat("}", strings.Count(s, "{")-strings.Count(s, "}"))
 }
 
 // around has of each kind a source in which a node of that kind may stand next; of a row, the first one's cells count.
@@ -121,25 +88,25 @@ func TestParseNothing(t *testing.T) {
 }
 
 func TestParseAll(t *testing.T) {
-	checkParse(t, rich, "17 .1A n4 .1x s2 .1y .1b 21 32 .1\n p9 .1a b e6 .1c s4 .1d n2 .1e .1f k1 "+
+	checkParse(t, trial.Rich, "17 .1A n4 .1x s2 .1y .1b 21 32 .1\n p9 .1a b e6 .1c s4 .1d n2 .1e .1f k1 "+
 		"l15 i13 .1a  l6 i4 .1b n2 .1z i1 l5 i4 .1c s2 .1d i1 "+
 		"t12 r7 c2 .1a c4 .1b e2 .1x r4 c1 c2 .1d p6 s3 e2 .1! e2 .1?")
-	checkWords(t, rich)
+	checkWords(t, trial.Rich)
 }
 
 // Each kind may stand in those that the table names, and in no other one.
 func TestParseEachKindInEachOther(t *testing.T) {
 	for outer, ahead := range around {
-		for i := range len(kinds) {
-			inner := kinds[i]
+		for i := range len(trial.Kinds) {
+			inner := trial.Kinds[i]
 			s := ahead + "{" + lex.Name(inner) + needs[inner]
-			s += ends(s)
+			s += trial.Ends(s)
 			if !mayStand(outer, inner) {
 				checkWrong(t, s, len(ahead), api.ErrForm)
 				continue
 			}
 			if l := must(t, s); !slices.ContainsFunc(l, func(x api.Node) bool { return x.Kind == inner && x.At == len(ahead) }) {
-				t.Errorf("Parse(%q) = %s: no %c at %d", s, show(l), inner, len(ahead))
+				t.Errorf("Parse(%q) = %s: no %c at %d", s, trial.Nodes(l), inner, len(ahead))
 			}
 		}
 	}
@@ -154,20 +121,20 @@ func TestParseTextInEachKind(t *testing.T) {
 		after := needs[outer]
 		for _, text := range []string{"a", " ", "\n", " \n \n", " a", "\n  a b\n", ".\n"} {
 			s := ahead + text + after
-			s += ends(s)
+			s += trial.Ends(s)
 			white := len(text) - len(strings.TrimLeft(text, " \n"))
 			switch {
 			case mayStand(outer, '.'):
 				l := must(t, s)
 				if !slices.Contains(l, api.Node{Kind: '.', Text: text, At: len(ahead), Size: 1}) {
-					t.Errorf("Parse(%q) = %s", s, show(l))
+					t.Errorf("Parse(%q) = %s", s, trial.Nodes(l))
 				}
 			case white < len(text):
 				checkWrong(t, s, len(ahead)+white, api.ErrForm)
 			default:
 				without := ahead + after
-				if l := must(t, s); show(l) != show(must(t, without+ends(without))) {
-					t.Errorf("Parse(%q) = %s", s, show(l))
+				if l := must(t, s); trial.Nodes(l) != trial.Nodes(must(t, without+trial.Ends(without))) {
+					t.Errorf("Parse(%q) = %s", s, trial.Nodes(l))
 				}
 			}
 		}
@@ -252,10 +219,10 @@ func TestParseWithinItsLike(t *testing.T) {
 func TestParseNotes(t *testing.T) {
 	for _, block := range []string{"{h1", "{h2", "{h3", "{p", "{l{i"} {
 		for _, first := range []string{"{n}", "{e{n}}", "{s{e{n}a}}", "{n{e{s}}}"} {
-			must(t, block+first+ends(block))
+			must(t, block+first+trial.Ends(block))
 			for _, next := range []string{"{n", "{e{n", "{s a{e{n"} {
 				s := block + first + " a" + next
-				checkWrong(t, s+ends(s), strings.LastIndex(s, "{"), api.ErrForm)
+				checkWrong(t, s+trial.Ends(s), strings.LastIndex(s, "{"), api.ErrForm)
 			}
 		}
 	}
@@ -271,29 +238,29 @@ func lists(n int) string { return strings.Repeat("{l{i", n) }
 
 func TestParseListsWithinLists(t *testing.T) {
 	for n := 1; n <= 8; n++ {
-		l := must(t, lists(n)+ends(lists(n)))
+		l := must(t, lists(n)+trial.Ends(lists(n)))
 		if len(l) != 2*n || l[0].Size != 2*n {
-			t.Errorf("%d lists: %s", n, show(l))
+			t.Errorf("%d lists: %s", n, trial.Nodes(l))
 		}
-		must(t, "{l{i}{i"+lists(n-1)+ends(lists(n-1))+lists(n-1)+ends(lists(n-1))+"}}")
+		must(t, "{l{i}{i"+lists(n-1)+trial.Ends(lists(n-1))+lists(n-1)+trial.Ends(lists(n-1))+"}}")
 	}
-	for _, behind := range []string{"", "}", "{i", "x", ends(lists(9))} {
+	for _, behind := range []string{"", "}", "{i", "x", trial.Ends(lists(9))} {
 		checkWrong(t, lists(8)+"{l"+behind, 32, api.ErrDepth)
 	}
-	checkWrong(t, lists(8)+ends(lists(8))+lists(9)+ends(lists(9)), 80, api.ErrDepth)
-	must(t, strings.Repeat(lists(8)+ends(lists(8)), 20))
+	checkWrong(t, lists(8)+trial.Ends(lists(8))+lists(9)+trial.Ends(lists(9)), 80, api.ErrDepth)
+	must(t, strings.Repeat(lists(8)+trial.Ends(lists(8)), 20))
 }
 
 // The deepest that may be without too many lists: eight of them, and a note in emphasis in the innermost item.
 func TestParseDepth(t *testing.T) {
 	deepest := lists(8) + " {e{s{n"
-	l := must(t, deepest+"a"+ends(deepest))
+	l := must(t, deepest+"a"+trial.Ends(deepest))
 	if len(l) != 20 || l[len(l)-1].Text != "a" {
-		t.Errorf("%s", show(l))
+		t.Errorf("%s", trial.Nodes(l))
 	}
 	checkWrong(t, deepest+"{l", len(deepest), api.ErrForm)
 	for n := 16; n <= 17; n++ {
-		checkWrong(t, lists(n)+ends(lists(n)), 32, api.ErrDepth)
+		checkWrong(t, lists(n)+trial.Ends(lists(n)), 32, api.ErrDepth)
 	}
 }
 
@@ -335,10 +302,10 @@ func long(n int) string { return strings.Repeat("a", n) }
 func TestParseNoteTexts(t *testing.T) {
 	for _, block := range []string{"{h1", "{p", "{p{e{s", "{l{i{l{i"} {
 		at := len(block) + 3
-		must(t, block+"{n\n"+long(60)+"}"+ends(block))
-		checkWrong(t, block+"{n\n"+long(61)+"}"+ends(block), at, api.ErrBound)
-		must(t, block+"{n\n"+strings.Repeat(" ", 60)+"}"+long(100)+ends(block))
-		checkWrong(t, block+"{n "+strings.Repeat("\n", 61)+"}"+ends(block), at, api.ErrBound)
+		must(t, block+"{n\n"+long(60)+"}"+trial.Ends(block))
+		checkWrong(t, block+"{n\n"+long(61)+"}"+trial.Ends(block), at, api.ErrBound)
+		must(t, block+"{n\n"+strings.Repeat(" ", 60)+"}"+long(100)+trial.Ends(block))
+		checkWrong(t, block+"{n "+strings.Repeat("\n", 61)+"}"+trial.Ends(block), at, api.ErrBound)
 	}
 	must(t, "{p{n "+long(20)+"{e "+long(20)+"{s "+long(10)+"}"+long(9)+"}a}"+long(70)+"}")
 	checkWrong(t, "{p{n "+long(20)+"{e "+long(20)+"{s "+long(10)+"}"+long(9)+"}ab}}", 72, api.ErrBound)
@@ -390,16 +357,16 @@ func TestParseNotClosed(t *testing.T) {
 	checkWrong(t, "{p a", 4, api.ErrForm)
 	checkWrong(t, "{p{e a}", 7, api.ErrForm)
 	checkWrong(t, "{l{i}{i}", 8, api.ErrForm)
-	for i := range rich {
-		open := strings.Count(rich[:i], "{") > strings.Count(rich[:i], "}")
-		if _, _, e := lex.Of(rich[:i]); e == api.OK && open {
-			checkWrong(t, rich[:i], i, api.ErrForm)
+	for i := range trial.Rich {
+		open := strings.Count(trial.Rich[:i], "{") > strings.Count(trial.Rich[:i], "}")
+		if _, _, e := lex.Of(trial.Rich[:i]); e == api.OK && open {
+			checkWrong(t, trial.Rich[:i], i, api.ErrForm)
 		}
 	}
 }
 
 func TestParseClosingTooMany(t *testing.T) {
-	for _, s := range []string{"", " ", "\n\n", "{k}", "{p a}", "{l{i}}\n", rich} {
+	for _, s := range []string{"", " ", "\n\n", "{k}", "{p a}", "{l{i}}\n", trial.Rich} {
 		for _, behind := range []string{"", "}", "{k}", "x", "{p"} {
 			checkWrong(t, s+"}"+behind, len(s), api.ErrForm)
 		}
@@ -413,7 +380,7 @@ func TestParseShortSources(t *testing.T) {
 		ahead, pieces string
 		most          int
 	}{
-		{"", kinds + "}. ", 3},
+		{"", trial.Kinds + "}. ", 3},
 		{"", "pl}. ", 5},
 		{"{2", "ens.}", 6},
 		{"{l{i", "lien.} ", 4},
@@ -423,8 +390,8 @@ func TestParseShortSources(t *testing.T) {
 		{"{t{r{c", "ens.}", 5},
 	} {
 		for s := range trial.Texts(x.pieces, x.most) {
-			checkWords(t, x.ahead+written(s))
-			checkWords(t, x.ahead+written(s)+ends(x.ahead))
+			checkWords(t, x.ahead+trial.Written(s))
+			checkWords(t, x.ahead+trial.Written(s)+trial.Ends(x.ahead))
 		}
 	}
 }
@@ -432,22 +399,22 @@ func TestParseShortSources(t *testing.T) {
 // Sources with a piece more, a piece less, or one for another.
 func TestParseSpoiltSources(t *testing.T) {
 	var places []int
-	for i := range len(rich) + 1 {
-		if _, _, e := lex.Of(rich[:i]); e == api.OK {
+	for i := range len(trial.Rich) + 1 {
+		if _, _, e := lex.Of(trial.Rich[:i]); e == api.OK {
 			places = append(places, i)
 		}
 	}
 	for _, at := range places {
-		for i := range len(kinds) {
-			checkWords(t, rich[:at]+"{"+lex.Name(kinds[i])+"}"+rich[at:])
-			checkWords(t, rich[:at]+"{"+lex.Name(kinds[i])+" "+rich[at:])
+		for i := range len(trial.Kinds) {
+			checkWords(t, trial.Rich[:at]+"{"+lex.Name(trial.Kinds[i])+"}"+trial.Rich[at:])
+			checkWords(t, trial.Rich[:at]+"{"+lex.Name(trial.Kinds[i])+" "+trial.Rich[at:])
 		}
 		for _, piece := range []string{"}", "x", " ", "\n"} {
-			checkWords(t, rich[:at]+piece+rich[at:])
+			checkWords(t, trial.Rich[:at]+piece+trial.Rich[at:])
 		}
 		for _, to := range places {
 			if to > at {
-				checkWords(t, rich[:at]+rich[to:])
+				checkWords(t, trial.Rich[:at]+trial.Rich[to:])
 			}
 		}
 	}
@@ -456,8 +423,8 @@ func TestParseSpoiltSources(t *testing.T) {
 // P4.3
 
 func TestSame(t *testing.T) {
-	l := must(t, rich)
-	if !tree.Same(l, l) || !tree.Same(nil, nil) || !tree.Same(nil, []api.Node{}) || !tree.Same(l, must(t, " \n"+rich)) {
+	l := must(t, trial.Rich)
+	if !tree.Same(l, l) || !tree.Same(nil, nil) || !tree.Same(nil, []api.Node{}) || !tree.Same(l, must(t, " \n"+trial.Rich)) {
 		t.Error("not the same")
 	}
 	for i := range l {
@@ -474,7 +441,7 @@ func TestSame(t *testing.T) {
 		} {
 			other[i] = x
 			if tree.Same(l, other) || tree.Same(other, l) {
-				t.Errorf("node %d: %s is the same as %s", i, show(other[i:i+1]), show(l[i:i+1]))
+				t.Errorf("node %d: %s is the same as %s", i, trial.Nodes(other[i:i+1]), trial.Nodes(l[i:i+1]))
 			}
 		}
 		if tree.Same(l, l[:i]) || tree.Same(l[:i], l) || tree.Same(l, l[i+1:]) {
@@ -495,16 +462,16 @@ func TestSameOfNoTrees(t *testing.T) {
 
 // What is answered is the caller's: what he makes of it is not seen by the next call, and no text is a piece of the source.
 func TestParseAnswersNewMemory(t *testing.T) {
-	want := show(must(t, rich))
-	l := must(t, rich)
+	want := trial.Nodes(must(t, trial.Rich))
+	l := must(t, trial.Rich)
 	clear(l[:cap(l)])
-	checkParse(t, rich, want)
-	from := uintptr(unsafe.Pointer(unsafe.StringData(rich)))
-	for _, x := range must(t, rich) {
+	checkParse(t, trial.Rich, want)
+	from := uintptr(unsafe.Pointer(unsafe.StringData(trial.Rich)))
+	for _, x := range must(t, trial.Rich) {
 		if x.Kind != '.' {
 			continue
 		}
-		if at := uintptr(unsafe.Pointer(unsafe.StringData(x.Text))); at >= from && at < from+uintptr(len(rich)) {
+		if at := uintptr(unsafe.Pointer(unsafe.StringData(x.Text))); at >= from && at < from+uintptr(len(trial.Rich)) {
 			t.Errorf("the text at %d shares the source's memory", x.At)
 		}
 	}
@@ -512,14 +479,14 @@ func TestParseAnswersNewMemory(t *testing.T) {
 
 // Neither a row that is handed in nor the room behind its end is changed.
 func TestHandedInStays(t *testing.T) {
-	whole := append(must(t, rich), api.Node{Kind: 'q', At: 1, Size: 9})
+	whole := append(must(t, trial.Rich), api.Node{Kind: 'q', At: 1, Size: 9})
 	for n := range whole {
 		l := slices.Clone(whole)
 		tree.Check(l[:n])
 		tree.Same(l[:n], l[:n])
 		tree.Same(l[:n], l)
 		if !slices.Equal(l, whole) {
-			t.Fatalf("%d nodes: %s", n, show(l))
+			t.Fatalf("%d nodes: %s", n, trial.Nodes(l))
 		}
 	}
 }
@@ -538,22 +505,22 @@ func checkMayBe(t *testing.T, s string, l []api.Node) {
 			want = "{" + lex.Name(x.Kind)
 		}
 		if !strings.HasPrefix(s[x.At:], want) || i > 0 && x.At <= l[i-1].At {
-			t.Fatalf("%q: node %d, %s, is not at %d", trial.Shown(s), i, show(l[i:i+1]), x.At)
+			t.Fatalf("%q: node %d, %s, is not at %d", trial.Shown(s), i, trial.Nodes(l[i:i+1]), x.At)
 		}
 	}
 }
 
 func TestParsedMayBe(t *testing.T) {
-	for _, s := range []string{"", rich, blank(2000), blank(1998) + "{p a}", lists(8) + ends(lists(8)), "{p{n " + long(60) + "}}", "{p " + long(8188) + "}"} {
+	for _, s := range []string{"", trial.Rich, blank(2000), blank(1998) + "{p a}", lists(8) + trial.Ends(lists(8)), "{p{n " + long(60) + "}}", "{p " + long(8188) + "}"} {
 		checkMayBe(t, s, must(t, s))
 	}
 	n := 0
 	for _, x := range []struct {
 		pieces string
 		most   int
-	}{{"pe.} ", 6}, {"lie}", 7}, {"trc}", 7}, {kinds + "}. ", 3}} {
+	}{{"pe.} ", 6}, {"lie}", 7}, {"trc}", 7}, {trial.Kinds + "}. ", 3}} {
 		for s := range trial.Texts(x.pieces, x.most) {
-			s = written(s)
+			s = trial.Written(s)
 			if l, _, e := tree.Parse(s); e == api.OK {
 				n++
 				checkMayBe(t, s, l)
@@ -576,16 +543,16 @@ func checkJoined(t *testing.T, s, next string) {
 		want = append(want, x)
 	}
 	if got := must(t, s+next); !slices.Equal(got, want) {
-		t.Fatalf("Parse(%q) = %s, want %s", trial.Shown(s+next), show(got), show(want))
+		t.Fatalf("Parse(%q) = %s, want %s", trial.Shown(s+next), trial.Nodes(got), trial.Nodes(want))
 	}
 }
 
 func TestBlocks(t *testing.T) {
-	all := []string{rich, " ", "\n", "{k}", "{p a}", " {p }\n", "{h1 a{n b}}", lists(8) + ends(lists(8)), "{t{r{c}{c}}}", "{t{r{c}}}"}
+	all := []string{trial.Rich, " ", "\n", "{k}", "{p a}", " {p }\n", "{h1 a{n b}}", lists(8) + trial.Ends(lists(8)), "{t{r{c}{c}}}", "{t{r{c}}}"}
 	for _, pieces := range []string{"kp.} ", "li}"} {
 		for s := range trial.Texts(pieces, 5) {
-			if _, _, e := tree.Parse(written(s)); e == api.OK {
-				all = append(all, written(s))
+			if _, _, e := tree.Parse(trial.Written(s)); e == api.OK {
+				all = append(all, trial.Written(s))
 			}
 		}
 	}
@@ -609,6 +576,6 @@ func TestBlocksOfManyNodes(t *testing.T) {
 func TestClosingAlone(t *testing.T) {
 	checkWrong(t, "}", 0, api.ErrForm)
 	checkWrong(t, " \n}", 2, api.ErrForm)
-	checkWrong(t, "}"+rich, 0, api.ErrForm)
+	checkWrong(t, "}"+trial.Rich, 0, api.ErrForm)
 	checkWrong(t, strings.Repeat("}", 8192), 0, api.ErrForm)
 }

@@ -16,8 +16,6 @@ var inside = map[byte]string{
 	'l': "i", 'i': ".esnl", 't': "r", 'r': "c", 'k': "",
 }
 
-const kinds = "123plitrcnesk"
-
 // word is a node that knows what is around it, and what is in it.
 type word struct {
 	kind   byte

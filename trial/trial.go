@@ -33,6 +33,26 @@ func longer(texts []string, alphabet string) []string {
 	return out
 }
 
+// Rows goes over all rows of at most that many entries, each one of those
+// given, which are 256 at most; the shorter rows first.
+func Rows[T any](of []T, most int) iter.Seq[[]T] {
+	places := make([]byte, len(of))
+	for i := range places {
+		places[i] = byte(i)
+	}
+	return func(yield func([]T) bool) {
+		for s := range Texts(string(places), most) {
+			l := make([]T, len(s))
+			for i := range len(s) {
+				l[i] = of[s[i]]
+			}
+			if !yield(l) {
+				return
+			}
+		}
+	}
+}
+
 // Shown is as much of a text as a failure should print.
 func Shown(s string) string {
 	return s[:min(len(s), 40)]

@@ -5,6 +5,8 @@ import (
 	"strings"
 	"testing"
 
+	"stylus/api"
+	"stylus/lex"
 	"stylus/trial"
 )
 
@@ -38,8 +40,62 @@ func TestTextsLeft(t *testing.T) {
 	}
 }
 
+func TestRows(t *testing.T) {
+	var got [][]int
+	for l := range trial.Rows([]int{7, 300}, 2) {
+		got = append(got, l)
+		if len(got) == 6 {
+			break
+		}
+	}
+	if want := [][]int{{}, {7}, {300}, {7, 7}, {7, 300}, {300, 7}}; !slices.EqualFunc(got, want, slices.Equal) {
+		t.Errorf("%v", got)
+	}
+	for l := range trial.Rows([]string{}, 3) {
+		if len(l) > 0 {
+			t.Errorf("%v", l)
+		}
+	}
+}
+
 func TestShown(t *testing.T) {
 	if a, b := trial.Shown("ab"), trial.Shown(strings.Repeat("ab", 21)); a != "ab" || b != strings.Repeat("ab", 20) {
 		t.Errorf("%q, %q", a, b)
+	}
+}
+
+func TestNodes(t *testing.T) {
+	l := []api.Node{{Kind: 'p', At: 7, Size: 2}, {Kind: '.', Text: "a b", Size: 1}, {Kind: 0xff, Size: -1}}
+	if s := trial.Nodes(l); s != "p2 .1a b \xff-1" || trial.Nodes(nil) != "" {
+		t.Errorf("%q", s)
+	}
+}
+
+func TestEvery(t *testing.T) {
+	if s := trial.Nodes(trial.Every("p.", "a", 1)); s != "p0a p1a .0a .1a" {
+		t.Errorf("%q", s)
+	}
+}
+
+func TestWritten(t *testing.T) {
+	if s := trial.Written("1p. e}\n}x"); s != "{h1{pa {e}\n}x" || trial.Written("") != "" {
+		t.Errorf("%q", s)
+	}
+}
+
+func TestEnds(t *testing.T) {
+	for s, want := range map[string]string{"": "", "a": "", "{p{e}": "}", "{l{i": "}}", "{p}": "", "}": ""} {
+		if got := trial.Ends(s); got != want {
+			t.Errorf("Ends(%q) = %q", s, got)
+		}
+	}
+}
+
+// Each kind stands in the rich source.
+func TestRich(t *testing.T) {
+	for i := range len(trial.Kinds) {
+		if name := lex.Name(trial.Kinds[i]); name == "" || !strings.Contains(trial.Rich, "{"+name) {
+			t.Errorf("%c", trial.Kinds[i])
+		}
 	}
 }
