@@ -16,7 +16,7 @@ import (
 
 // Neither a row that is handed in nor the room behind its end is changed.
 func TestHandedInStays(t *testing.T) {
-	whole := append(must(t, white), say("  a ", 3))
+	whole := append(must(t, trial.White), trial.Say("  a ", 3))
 	for n := range whole {
 		l := slices.Clone(whole)
 		norm.Of(l[:n])
@@ -38,7 +38,7 @@ func shares(a, b string) bool {
 
 // What is answered is the caller's: what he makes of it is seen neither by the row that he handed in, nor by the next call.
 func TestOfAnswersNewMemory(t *testing.T) {
-	for _, s := range []string{white, trial.Rich, "{p a b}{k }{h1 a {e b}}"} {
+	for _, s := range []string{trial.White, trial.Rich, "{p a b}{k }{h1 a {e b}}"} {
 		l := must(t, s)
 		want := slices.Clone(l)
 		first, again := normal(t, l), normal(t, l)
@@ -104,35 +104,10 @@ func checkOneForm(t *testing.T, l []api.Node) {
 	}
 }
 
-// trees hands on trees of many forms.
-func trees(t *testing.T, yield func(l []api.Node)) {
-	t.Helper()
-	for _, s := range []string{"", "{k}", white, trial.Rich, white + "\n" + trial.Rich} {
-		yield(must(t, s))
-	}
-	n := 0
-	for _, x := range []struct {
-		ahead, pieces string
-		most          int
-	}{{"{p", "en. }", 6}, {"", "pe.} ", 5}, {"{l{i", "lie. }", 5}, {"{t{r{c", "c. }", 6}} {
-		for s := range trial.Texts(x.pieces, x.most) {
-			s = x.ahead + trial.Written(s)
-			if l, _, e := tree.Parse(s + trial.Ends(s)); e == api.OK {
-				n++
-				yield(l)
-			}
-		}
-	}
-	for texts := range trial.Rows([]string{"a", " ", "\n b ", "  c"}, 5) {
-		yield(inP(texts...))
-	}
-	if n < 1000 {
-		t.Errorf("%d trees", n)
-	}
-}
-
 func TestOneForm(t *testing.T) {
-	trees(t, func(l []api.Node) { checkOneForm(t, l) })
+	for l := range trial.Trees() {
+		checkOneForm(t, l)
+	}
 }
 
 // P5.4
@@ -161,7 +136,7 @@ func rewhite(l []api.Node, other func(i int) string) []api.Node {
 // Trees that are the same but for how many white bytes stand in a row, and which, are the same, normalised.
 func TestWhite(t *testing.T) {
 	others := []string{" ", "\n", "  ", "\n ", " \n\n", "\n\n\n"}
-	trees(t, func(l []api.Node) {
+	for l := range trial.Trees() {
 		want := normal(t, l)
 		for k := range others {
 			for _, step := range []int{0, 1, 5} {
@@ -171,7 +146,7 @@ func TestWhite(t *testing.T) {
 				}
 			}
 		}
-	})
+	}
 }
 
 // Where white is beside none, it is not nothing.

@@ -28,7 +28,7 @@ func TestIs(t *testing.T) {
 
 // A tree that is normalised is so no more with another white byte beside one, or at a flow's begin or end, or with LF for a space.
 func TestIsButForOneByte(t *testing.T) {
-	whole := normal(t, must(t, white+"{p ab cd{e ef}gh{n xy}}"))
+	whole := normal(t, must(t, trial.White+"{p ab cd{e ef}gh{n xy}}"))
 	if !norm.Is(whole) {
 		t.Fatalf("%q", trial.Nodes(whole))
 	}
@@ -63,12 +63,12 @@ func TestIsButForOneByte(t *testing.T) {
 
 // Nor with two text nodes side by side for one, whatever they say.
 func TestIsButForTwoTexts(t *testing.T) {
-	for _, s := range []string{white, trial.Rich, "{p a b{e  c}d e}"} {
+	for _, s := range []string{trial.White, trial.Rich, "{p a b{e  c}d e}"} {
 		l := normal(t, must(t, s))
 		for i, x := range l {
 			for at := 1; at < len(x.Text); at++ {
-				if norm.Is(split(l, i, at)) {
-					t.Errorf("%q", trial.Nodes(split(l, i, at)))
+				if norm.Is(trial.Split(l, i, at)) {
+					t.Errorf("%q", trial.Nodes(trial.Split(l, i, at)))
 				}
 			}
 		}
@@ -77,7 +77,7 @@ func TestIsButForTwoTexts(t *testing.T) {
 
 // Places count for nothing.
 func TestIsPlaces(t *testing.T) {
-	l, other := normal(t, must(t, white)), must(t, white)
+	l, other := normal(t, must(t, trial.White)), must(t, trial.White)
 	for _, at := range []int{0, -1, 7, math.MaxInt, math.MinInt} {
 		for i := range l {
 			l[i].At = at * (i % 3)
@@ -93,7 +93,7 @@ func TestIsPlaces(t *testing.T) {
 
 // A tree that is normalised but for its Sizes, or its bounds, is none.
 func TestIsNoTree(t *testing.T) {
-	l := normal(t, must(t, white))
+	l := normal(t, must(t, trial.White))
 	for i, x := range l {
 		for _, size := range []int{0, -x.Size, x.Size + 100, math.MaxInt} {
 			l[i].Size = size
@@ -106,11 +106,11 @@ func TestIsNoTree(t *testing.T) {
 	if !norm.Is(l) {
 		t.Errorf("%q", trial.Nodes(l))
 	}
-	if k := []api.Node{node('k', 0, 1)}; !norm.Is(slices.Repeat(k, 2000)) || norm.Is(slices.Repeat(k, 2001)) {
+	if k := []api.Node{trial.Node('k', 0, 1)}; !norm.Is(slices.Repeat(k, 2000)) || norm.Is(slices.Repeat(k, 2001)) {
 		t.Error("2000 nodes")
 	}
 	for _, n := range []int{60, 61} {
-		if l := []api.Node{node('p', 0, 3), node('n', 0, 2), say(strings.Repeat("a", n), 0)}; norm.Is(l) != (n == 60) {
+		if l := []api.Node{trial.Node('p', 0, 3), trial.Node('n', 0, 2), trial.Say(strings.Repeat("a", n), 0)}; norm.Is(l) != (n == 60) {
 			t.Errorf("a note of %d bytes", n)
 		}
 	}

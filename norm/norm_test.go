@@ -13,10 +13,6 @@ import (
 	"stylus/trial"
 )
 
-// white has each kind of node, and white at each place of each flow.
-const white = "{h1 \n A  b \n{n  x{s \n y \n}\n} {e \n}b \n}{h2}{h3\n\n \n}{p  a \n b{e  c{s  d{n \n e \n} }\n}  f \n} {k\n}" +
-	"{l \n{i \n a  {l{i  b {n  z \n}\n} \n{i\n \n}}{l{i c{s  d \n} }} }\n{i}}{t{r{c  a  b\n}{c \n{e \n x \n} }}{r{c \n}{c  d}}}{p{s {e  ! }} {e \n?}}{p \n{n \n}\n}"
-
 // blocks is what stands ahead of a flow's texts and behind them, of each kind of flow.
 var blocks = [][2]string{
 	{"{h1 ", "}"}, {"{h2 ", "}"}, {"{h3 ", "}"}, {"{p ", "}"}, {"{l {i ", "}}"}, {"{t {r {c ", "}}}"}, {"{p {n ", "}}"}, {"{l {i a{n ", "}}}"},
@@ -79,23 +75,6 @@ func checkWords(t *testing.T, l []api.Node) api.Errno {
 	return err
 }
 
-func node(kind byte, at, size int) api.Node { return api.Node{Kind: kind, At: at, Size: size} }
-
-func say(text string, at int) api.Node {
-	return api.Node{Kind: '.', Text: text, At: at, Size: 1}
-}
-
-// inP is a paragraph of text nodes alone, one for each text, as far from each other as they are long.
-func inP(texts ...string) []api.Node {
-	l := []api.Node{node('p', 5, len(texts)+1)}
-	at := 8
-	for _, s := range texts {
-		l = append(l, say(s, at))
-		at += len(s)
-	}
-	return l
-}
-
 // P5.1: Of
 
 func TestOfExamples(t *testing.T) {
@@ -106,7 +85,7 @@ func TestOfExamples(t *testing.T) {
 }
 
 func TestOfNothing(t *testing.T) {
-	for _, l := range [][]api.Node{nil, {}, must(t, white)[:0], must(t, " \n\n ")} {
+	for _, l := range [][]api.Node{nil, {}, must(t, trial.White)[:0], must(t, " \n\n ")} {
 		if n, e := norm.Of(l); len(n) > 0 || e != api.OK || !norm.Is(l) {
 			t.Errorf("%v, %d, %v", n, e, norm.Is(l))
 		}
@@ -114,9 +93,9 @@ func TestOfNothing(t *testing.T) {
 }
 
 func TestOfAll(t *testing.T) {
-	checkSource(t, white, "{h1 A b {n x{s  y}}{e }b}{h2 }{h3 }{p a b{e  c{s  d{n e} }}f}{k }"+
+	checkSource(t, trial.White, "{h1 A b {n x{s  y}}{e }b}{h2 }{h3 }{p a b{e  c{s  d{n e} }}f}{k }"+
 		"{l {i a{l {i b{n z}}{i }}{l {i c{s  d}}}}{i }}{t {r {c a b}{c {e x}}}{r {c }{c d}}}{p {s {e ! }}{e ?}}{p {n }}")
-	checkWords(t, must(t, white))
+	checkWords(t, must(t, trial.White))
 	checkWords(t, must(t, trial.Rich))
 }
 
@@ -130,8 +109,8 @@ func TestOfWhiteAlone(t *testing.T) {
 		}
 	}
 	for _, s := range []string{" ", "\n", "\n  \n"} {
-		checkNodes(t, inP(s), inP())
-		checkNodes(t, inP(s, s, s), inP())
+		checkNodes(t, trial.InP(s), trial.InP())
+		checkNodes(t, trial.InP(s, s, s), trial.InP())
 	}
 }
 
@@ -230,10 +209,10 @@ func TestOfSideBySide(t *testing.T) {
 		{[]string{"a ", " ", "\n"}, "a"},
 		{[]string{"a b ", "c"}, "a b c"},
 	} {
-		checkNodes(t, inP(x.texts...), inP(x.want))
+		checkNodes(t, trial.InP(x.texts...), trial.InP(x.want))
 	}
-	checkNodes(t, inP(" ", "a"), []api.Node{node('p', 5, 2), say("a", 9)})
-	checkNodes(t, inP("\n", "  ", " a", " ", "b"), []api.Node{node('p', 5, 2), say("a b", 12)})
+	checkNodes(t, trial.InP(" ", "a"), []api.Node{trial.Node('p', 5, 2), trial.Say("a", 9)})
+	checkNodes(t, trial.InP("\n", "  ", " a", " ", "b"), []api.Node{trial.Node('p', 5, 2), trial.Say("a b", 12)})
 }
 
 // Text nodes of unlike nodes stay apart, with whatever is between; so do those between which a node stands.
@@ -245,16 +224,16 @@ func TestOfNotSideBySide(t *testing.T) {
 	checkSource(t, "{p {e {s a}}b}", "{p {e {s a}}b}")
 	checkSource(t, "{p {e a}{e b}}", "{p {e a}{e b}}")
 	checkSource(t, "{p a}{p b}", "{p a}{p b}")
-	l := []api.Node{node('p', 0, 6), node('e', 3, 3), say("a", 6), say("b ", 7), say(" c", 10), say("d", 12)}
-	checkNodes(t, l, []api.Node{node('p', 0, 4), node('e', 3, 2), say("ab ", 6), say("cd", 11)})
+	l := []api.Node{trial.Node('p', 0, 6), trial.Node('e', 3, 3), trial.Say("a", 6), trial.Say("b ", 7), trial.Say(" c", 10), trial.Say("d", 12)}
+	checkNodes(t, l, []api.Node{trial.Node('p', 0, 4), trial.Node('e', 3, 2), trial.Say("ab ", 6), trial.Say("cd", 11)})
 }
 
 // A space goes, or stays, by what stands ahead, and behind, in other nodes of the flow.
 func TestOfSideBySideWithin(t *testing.T) {
-	l := []api.Node{node('p', 0, 7), say("a", 3), say(" ", 4), node('e', 5, 3), say("\n", 8), say(" b ", 9), say(" ", 13)}
-	checkNodes(t, l, []api.Node{node('p', 0, 4), say("a ", 3), node('e', 5, 2), say("b", 10)})
+	l := []api.Node{trial.Node('p', 0, 7), trial.Say("a", 3), trial.Say(" ", 4), trial.Node('e', 5, 3), trial.Say("\n", 8), trial.Say(" b ", 9), trial.Say(" ", 13)}
+	checkNodes(t, l, []api.Node{trial.Node('p', 0, 4), trial.Say("a ", 3), trial.Node('e', 5, 2), trial.Say("b", 10)})
 	l[6].Text = " c"
-	checkNodes(t, l, []api.Node{node('p', 0, 5), say("a ", 3), node('e', 5, 2), say("b ", 10), say("c", 14)})
+	checkNodes(t, l, []api.Node{trial.Node('p', 0, 5), trial.Say("a ", 3), trial.Node('e', 5, 2), trial.Say("b ", 10), trial.Say("c", 14)})
 }
 
 // The Sizes of all around are less by what went.
@@ -300,14 +279,14 @@ func TestOfPlaces(t *testing.T) {
 // Places are not asked whether they are any: all other nodes have theirs still, and texts are as far on as what went ahead.
 func TestOfAnyPlaces(t *testing.T) {
 	for _, at := range []int{0, -1, -9, 1 << 40, math.MaxInt - 5, math.MinInt} {
-		l := []api.Node{node('p', at, 5), say("  a", at), say("b ", -at), node('e', at+1, 2), say(" ", at)}
-		checkNodes(t, l, []api.Node{node('p', at, 3), say("ab", at+2), node('e', at+1, 1)})
+		l := []api.Node{trial.Node('p', at, 5), trial.Say("  a", at), trial.Say("b ", -at), trial.Node('e', at+1, 2), trial.Say(" ", at)}
+		checkNodes(t, l, []api.Node{trial.Node('p', at, 3), trial.Say("ab", at+2), trial.Node('e', at+1, 1)})
 	}
-	far := normal(t, inP(strings.Repeat("\n", 5), " a"))
+	far := normal(t, trial.InP(strings.Repeat("\n", 5), " a"))
 	if far[1].At != 14 {
 		t.Errorf("%v", far)
 	}
-	if n, e := norm.Of([]api.Node{node('p', 0, 2), say("  a", math.MaxInt)}); len(n) != 2 || n[1].Text != "a" || e != api.OK {
+	if n, e := norm.Of([]api.Node{trial.Node('p', 0, 2), trial.Say("  a", math.MaxInt)}); len(n) != 2 || n[1].Text != "a" || e != api.OK {
 		t.Errorf("%v, %d", n, e)
 	}
 }
@@ -316,9 +295,9 @@ func TestOfAnyPlaces(t *testing.T) {
 func TestOfEachByte(t *testing.T) {
 	for i := range 256 {
 		b := string([]byte{byte(i)})
-		if tree.Check(inP(b)) != api.OK {
+		if tree.Check(trial.InP(b)) != api.OK {
 			for _, s := range []string{b, "a" + b, " " + b + " "} {
-				if n, e := norm.Of(inP(s)); n != nil || e != api.ErrForm || norm.Is(inP(s)) {
+				if n, e := norm.Of(trial.InP(s)); n != nil || e != api.ErrForm || norm.Is(trial.InP(s)) {
 					t.Errorf("%q: %v, %d", s, n, e)
 				}
 			}
@@ -328,38 +307,13 @@ func TestOfEachByte(t *testing.T) {
 		if b == " " || b == "\n" {
 			want = "a b c"
 		}
-		checkNodes(t, inP("a"+b+"b"+b+b+"c"), inP(want))
-	}
-}
-
-// wrong is rows of nodes that are no tree that may be, by the error.
-func wrong(t *testing.T) map[api.Errno][][]api.Node {
-	deep := []api.Node{}
-	for i := range 9 {
-		deep = append(deep, node('l', 0, 18-2*i), node('i', 0, 17-2*i))
-	}
-	return map[api.Errno][][]api.Node{
-		api.ErrForm: {
-			{node('q', 0, 1)}, {node('p', 0, 0)}, {node('p', 0, 2)}, {node('p', 0, -1)}, {node('p', 0, math.MaxInt)}, {say("a", 0)}, {say(" ", 0)}, {node('l', 0, 1)}, {node('i', 0, 1)}, {{}},
-			inP(""), inP("a", ""), inP("~"), inP(" \t"), inP("a\x00"), inP("caf\u00e9"),
-			{node('p', 0, 2), {Kind: '.', Text: "a", Size: 2}}, {{Kind: 'p', Text: "a", Size: 1}}, {node('p', 0, 1), say("a", 0)},
-			{node('l', 0, 3), say(" ", 0), node('i', 0, 1)}, {node('p', 0, 2), node('p', 0, 1)},
-			must(t, white)[1:], append(must(t, white), say(" ", 0)), must(t, white)[:5],
-		},
-		api.ErrDepth: {deep},
-		api.ErrBound: {
-			slices.Repeat([]api.Node{node('k', 0, 1)}, 2001),
-			inP(slices.Repeat([]string{" "}, 2000)...),
-			{node('p', 0, 3), node('n', 0, 2), say(strings.Repeat("a ", 30)+"a", 0)},
-			{node('p', 0, 3), node('n', 0, 2), say(strings.Repeat(" ", 61), 0)},
-			{node('p', 0, 4), node('n', 0, 3), say(strings.Repeat("\n", 60), 0), say(" ", 0)},
-		},
+		checkNodes(t, trial.InP("a"+b+"b"+b+b+"c"), trial.InP(want))
 	}
 }
 
 // Of a row that is no tree that may be there is the error, and nothing else, even if it could be but for its white.
 func TestOfWrong(t *testing.T) {
-	for want, rows := range wrong(t) {
+	for want, rows := range trial.Wrong() {
 		for _, l := range rows {
 			if n, e := norm.Of(l); n != nil || e != want {
 				t.Errorf("Of(%q) = %v, %d, want %d", trial.Shown(trial.Nodes(l)), n, e, want)
@@ -372,11 +326,11 @@ func TestOfWrong(t *testing.T) {
 }
 
 func TestOfLargest(t *testing.T) {
-	checkNodes(t, inP(slices.Repeat([]string{" a"}, 1999)...), []api.Node{node('p', 5, 2), say(strings.Repeat("a ", 1998)+"a", 9)})
-	checkNodes(t, inP(slices.Repeat([]string{"\n"}, 1999)...), inP())
+	checkNodes(t, trial.InP(slices.Repeat([]string{" a"}, 1999)...), []api.Node{trial.Node('p', 5, 2), trial.Say(strings.Repeat("a ", 1998)+"a", 9)})
+	checkNodes(t, trial.InP(slices.Repeat([]string{"\n"}, 1999)...), trial.InP())
 	long := strings.Repeat(" ab\n \n", 200000)
-	checkNodes(t, inP(long[2:], "a \n"), inP("b"+strings.Repeat(" ab", 199999)+" a"))
-	checkNodes(t, inP(long[2:], long, " a"), inP("b"+strings.Repeat(" ab", 399999)+" a"))
+	checkNodes(t, trial.InP(long[2:], "a \n"), trial.InP("b"+strings.Repeat(" ab", 199999)+" a"))
+	checkNodes(t, trial.InP(long[2:], long, " a"), trial.InP("b"+strings.Repeat(" ab", 399999)+" a"))
 	deep := strings.Repeat("{l{i  a ", 8)
 	checkSource(t, deep+"{s {e  {n \n x } }b}"+trial.Ends(deep), strings.Repeat("{l {i a", 7)+"{l {i a {s {e {n x}}b}"+trial.Ends(deep))
 }
@@ -419,9 +373,9 @@ func TestOfShortRows(t *testing.T) {
 		most      int
 	}{
 		{nil, slices.Concat(trial.Every("pen", "", 4)[1:], trial.Every(".", "a", 1)[1:], trial.Every(".", " ", 1)[1:]), 4},
-		{[]api.Node{node('p', 0, 6)}, slices.Concat(trial.Every("en", "", 3)[1:], trial.Every(".", "a", 1)[1:], trial.Every(".", " ", 1)[1:]), 5},
-		{[]api.Node{node('p', 0, 5)}, slices.Concat(trial.Every("ns", "", 2)[1:], trial.Every(".", "a ", 1)[1:], trial.Every(".", "\n b", 1)[1:], trial.Every(".", " \n", 1)[1:]), 4},
-		{[]api.Node{node('l', 0, 6), node('i', 0, 5)}, slices.Concat(trial.Every("li", "", 3)[1:], trial.Every("e", "", 1)[1:], trial.Every(".", " a", 1)[1:], trial.Every(".", " ", 1)[1:]), 4},
+		{[]api.Node{trial.Node('p', 0, 6)}, slices.Concat(trial.Every("en", "", 3)[1:], trial.Every(".", "a", 1)[1:], trial.Every(".", " ", 1)[1:]), 5},
+		{[]api.Node{trial.Node('p', 0, 5)}, slices.Concat(trial.Every("ns", "", 2)[1:], trial.Every(".", "a ", 1)[1:], trial.Every(".", "\n b", 1)[1:], trial.Every(".", " \n", 1)[1:]), 4},
+		{[]api.Node{trial.Node('l', 0, 6), trial.Node('i', 0, 5)}, slices.Concat(trial.Every("li", "", 3)[1:], trial.Every("e", "", 1)[1:], trial.Every(".", " a", 1)[1:], trial.Every(".", " ", 1)[1:]), 4},
 	} {
 		for l := range trial.Rows(x.of, x.most) {
 			l = slices.Concat(x.ahead, l)
@@ -440,7 +394,7 @@ func TestOfShortRows(t *testing.T) {
 
 // A tree with one node for another, or one node left out.
 func TestOfSpoiltRows(t *testing.T) {
-	whole := must(t, white)
+	whole := must(t, trial.White)
 	for i := range whole {
 		checkWords(t, whole[:i])
 		checkWords(t, slices.Delete(slices.Clone(whole), i, i+1))
@@ -457,28 +411,16 @@ func TestOfSpoiltRows(t *testing.T) {
 	}
 }
 
-// split has the text node at a place as two, parted at one of its bytes.
-func split(l []api.Node, place, at int) []api.Node {
-	x := l[place]
-	out := slices.Concat(l[:place], []api.Node{say(x.Text[:at], x.At), say(x.Text[at:], x.At+at)}, l[place+1:])
-	for i := range place {
-		if i+l[i].Size > place {
-			out[i].Size++
-		}
-	}
-	return out
-}
-
 // A text that is parted says what it says whole, from the same place.
 func TestOfPartedTexts(t *testing.T) {
-	for _, s := range []string{white, trial.Rich, "{p a b  c\n{e  d \n e} \n f}"} {
+	for _, s := range []string{trial.White, trial.Rich, "{p a b  c\n{e  d \n e} \n f}"} {
 		l := must(t, s)
 		want := normal(t, l)
 		for i, x := range l {
 			for at := 1; at < len(x.Text); at++ {
-				checkNodes(t, split(l, i, at), want)
+				checkNodes(t, trial.Split(l, i, at), want)
 				if at > 1 {
-					checkNodes(t, split(split(l, i, at), i, at-1), want)
+					checkNodes(t, trial.Split(trial.Split(l, i, at), i, at-1), want)
 				}
 			}
 		}

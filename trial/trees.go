@@ -14,6 +14,10 @@ const Kinds = "123plitrcnesk"
 // Rich is a source that has each kind, and each kind of white that is nothing.
 const Rich = "{h1 A{n x{s y}}b}\n{h2}{h3\n\n}{p a b{e c{s d{n e}}}f} {k\n}{l \n{i a {l{i b{n z}} \n{i}}{l{i c{s d}}} }\n{i}} {t{r{c a}{c b{e x}}}\n{r {c}{c d}} }{p{s{e !}}{e?}}\n"
 
+// White is a source that has each kind, and white at each place of each flow.
+const White = "{h1 \n A  b \n{n  x{s \n y \n}\n} {e \n}b \n}{h2}{h3\n\n \n}{p  a \n b{e  c{s  d{n \n e \n} }\n}  f \n} {k\n}" +
+	"{l \n{i \n a  {l{i  b {n  z \n}\n} \n{i\n \n}}{l{i c{s  d \n} }} }\n{i}}{t{r{c  a  b\n}{c \n{e \n x \n} }}{r{c \n}{c  d}}}{p{s {e  ! }} {e \n?}}{p \n{n \n}\n}"
+
 // Nodes tells a row's nodes, each by its kind, size and text.
 func Nodes(t []api.Node) string {
 	var parts []string

@@ -7,6 +7,7 @@ import (
 
 	"stylus/api"
 	"stylus/lex"
+	"stylus/tree"
 	"stylus/trial"
 )
 
@@ -91,11 +92,68 @@ func TestEnds(t *testing.T) {
 	}
 }
 
-// Each kind stands in the rich source.
+// Each kind stands in the rich source, and in that of white.
 func TestRich(t *testing.T) {
-	for i := range len(trial.Kinds) {
-		if name := lex.Name(trial.Kinds[i]); name == "" || !strings.Contains(trial.Rich, "{"+name) {
-			t.Errorf("%c", trial.Kinds[i])
+	for _, s := range []string{trial.Rich, trial.White} {
+		for i := range len(trial.Kinds) {
+			if name := lex.Name(trial.Kinds[i]); name == "" || !strings.Contains(s, "{"+name) {
+				t.Errorf("%c", trial.Kinds[i])
+			}
+		}
+		if _, at, e := tree.Parse(s); e != api.OK {
+			t.Errorf("%d, %d", at, e)
+		}
+	}
+}
+
+func TestInP(t *testing.T) {
+	l := trial.InP("ab", "", "c")
+	if want := []api.Node{trial.Node('p', 5, 4), trial.Say("ab", 8), trial.Say("", 10), trial.Say("c", 10)}; !slices.Equal(l, want) || len(trial.InP()) != 1 {
+		t.Errorf("%v", l)
+	}
+}
+
+func TestSplit(t *testing.T) {
+	l := []api.Node{trial.Node('k', 0, 1), trial.Node('p', 2, 4), trial.Node('e', 5, 2), trial.Say("abc", 8), trial.Say("d", 12)}
+	want := []api.Node{trial.Node('k', 0, 1), trial.Node('p', 2, 5), trial.Node('e', 5, 3), trial.Say("ab", 8), trial.Say("c", 10), trial.Say("d", 12)}
+	if got := trial.Split(l, 3, 2); !slices.Equal(got, want) || l[1].Size != 4 {
+		t.Errorf("%v", got)
+	}
+}
+
+func TestWrong(t *testing.T) {
+	errors := 0
+	for want, rows := range trial.Wrong() {
+		errors++
+		for _, l := range rows {
+			if e := tree.Check(l); e != want {
+				t.Errorf("Check(%q) = %d, want %d", trial.Shown(trial.Nodes(l)), e, want)
+			}
+		}
+	}
+	if errors != 3 {
+		t.Errorf("%d errors", errors)
+	}
+}
+
+func TestTrees(t *testing.T) {
+	n := 0
+	for l := range trial.Trees() {
+		n++
+		if e := tree.Check(l); e != api.OK {
+			t.Errorf("%q: %d", trial.Nodes(l), e)
+		}
+	}
+	if n < 3000 {
+		t.Errorf("%d trees", n)
+	}
+	for most := 1; most < n; most = 2*most + 1 {
+		so := 0
+		for range trial.Trees() {
+			so++
+			if so == most {
+				break
+			}
 		}
 	}
 }
