@@ -95,7 +95,7 @@ func checkOneForm(t *testing.T, l []api.Node) {
 	if same, all := bare(n); !slices.Equal(same, nodes) || all != letters {
 		t.Fatalf("%q becomes %q", trial.Nodes(l), trial.Nodes(n))
 	}
-	was, is := flowTexts(l), flowTexts(n)
+	was, is := trial.FlowTexts(l), trial.FlowTexts(n)
 	for i := range was {
 		was[i] = strings.Join(strings.Fields(was[i]), " ")
 	}

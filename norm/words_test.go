@@ -4,6 +4,7 @@ import (
 	"strings"
 
 	"stylus/api"
+	"stylus/trial"
 )
 
 // spot is a byte of a text node, in the flow of that node; gone tells whether it went.
@@ -15,22 +16,12 @@ type spot struct {
 	gone bool
 }
 
-// around is the place of the innermost node of some kinds around another one; -1, if there is none.
-func around(t []api.Node, place int, kinds string) int {
-	for i := place - 1; i >= 0; i-- {
-		if i+t[i].Size > place && strings.IndexByte(kinds, t[i].Kind) >= 0 {
-			return i
-		}
-	}
-	return -1
-}
-
 // normed says the document's words of a tree that may be, one by one.
 func normed(t []api.Node) []api.Node {
 	var spots []*spot
 	for i, x := range t {
 		for j := range len(x.Text) {
-			spots = append(spots, &spot{c: x.Text[j], node: i, flow: around(t, i, "123picn"), at: x.At + j})
+			spots = append(spots, &spot{c: x.Text[j], node: i, flow: trial.Around(t, i, "123picn"), at: x.At + j})
 		}
 	}
 	oneSpace(spots)
@@ -84,7 +75,7 @@ func side(t []api.Node, spots []*spot) []api.Node {
 	var l []api.Node
 	var was, in []int // of each node of l, its place in t, and that of the node around it
 	for i, x := range t {
-		here := around(t, i, "123plitrcnesk")
+		here := trial.Around(t, i, "123plitrcnesk")
 		if x.Kind == '.' {
 			x.Text = ""
 			for _, s := range spots {
@@ -115,22 +106,4 @@ func side(t []api.Node, spots []*spot) []api.Node {
 		}
 	}
 	return l
-}
-
-// flowTexts is what each flow of a tree says, in the order in which the flows begin.
-func flowTexts(t []api.Node) []string {
-	var all []string
-	for i, x := range t {
-		if strings.IndexByte("123picn", x.Kind) < 0 {
-			continue
-		}
-		s := ""
-		for j, y := range t {
-			if y.Kind == '.' && around(t, j, "123picn") == i {
-				s += y.Text
-			}
-		}
-		all = append(all, s)
-	}
-	return all
 }

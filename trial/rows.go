@@ -105,3 +105,31 @@ func sources() iter.Seq[string] {
 		}
 	}
 }
+
+// Around is the place of the innermost node of some kinds around another one; -1, if there is none.
+func Around(t []api.Node, place int, kinds string) int {
+	for i := place - 1; i >= 0; i-- {
+		if i+t[i].Size > place && strings.IndexByte(kinds, t[i].Kind) >= 0 {
+			return i
+		}
+	}
+	return -1
+}
+
+// FlowTexts is what each flow of a tree says, in the order in which the flows begin.
+func FlowTexts(t []api.Node) []string {
+	var all []string
+	for i, x := range t {
+		if strings.IndexByte("123picn", x.Kind) < 0 {
+			continue
+		}
+		s := ""
+		for j, y := range t {
+			if y.Kind == '.' && Around(t, j, "123picn") == i {
+				s += y.Text
+			}
+		}
+		all = append(all, s)
+	}
+	return all
+}

@@ -157,3 +157,37 @@ func TestTrees(t *testing.T) {
 		}
 	}
 }
+
+func TestAround(t *testing.T) {
+	l, _, _ := tree.Parse("{p a{e b{n c}d}}{k}")
+	for i, want := range []int{-1, 0, 0, 0, 0, 4, 0, -1} {
+		if got := trial.Around(l, i, "pn"); got != want {
+			t.Errorf("around %d: %d, want %d", i, got, want)
+		}
+	}
+	if trial.Around(l, 5, "e") != 2 || trial.Around(l, 7, trial.Kinds) != -1 {
+		t.Error("around")
+	}
+}
+
+func TestFlowTexts(t *testing.T) {
+	for s, want := range map[string][]string{
+		"": nil, "{k}": nil, "{p}": {""}, "{p a{e b {n  c{s d}}}e}{h1 f}": {"ab e", " cd", "f"},
+		"{l{i a{l{i b}}}{i}}": {"a", "b", ""}, "{t{r{c a}{c {e b}}}}": {"a", "b"},
+	} {
+		l, _, _ := tree.Parse(s)
+		if got := trial.FlowTexts(l); !slices.Equal(got, want) {
+			t.Errorf("%q: %q", s, got)
+		}
+	}
+}
+
+func TestToks(t *testing.T) {
+	want := []api.Tok{{Kind: 2, Ch: 'p'}, {Kind: 1, Ch: 'a', At: 2}, {Kind: 1, Ch: ' ', At: 3}, {Kind: 2, Ch: 'e', At: 4}, {Kind: 3, Ch: '>', At: 6}, {Kind: 1, Ch: '<', At: 8}}
+	if got := trial.Toks("<pa <e>><"); !slices.Equal(got, want) || len(trial.Toks("")) > 0 {
+		t.Errorf("%v", got)
+	}
+	if s := trial.Told(append(want, api.Tok{Ch: 'x'}, api.Tok{Kind: 4, Ch: 0})); s != "<pa <e>><?x?\x00" || trial.Told(nil) != "" {
+		t.Errorf("%q", s)
+	}
+}
