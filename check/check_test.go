@@ -21,8 +21,8 @@ func checkAlone(t *testing.T, x api.Rule, want bool) {
 }
 
 func TestAloneExamples(t *testing.T) {
-	checkAlone(t, parse(t, "sign ind 2356")[0], true)
-	checkAlone(t, parse(t, "sign ind 2356-1")[0], false)
+	checkAlone(t, trial.Lines("sign ind 2356")[0], true)
+	checkAlone(t, trial.Lines("sign ind 2356-1")[0], false)
 }
 
 // checkMost asks that a rule may stand alone with that many cells at most.
@@ -105,7 +105,7 @@ func TestAloneOfWrongRules(t *testing.T) {
 }
 
 func TestAloneWords(t *testing.T) {
-	for _, x := range slices.Concat(samples(), wrongRules(), rich(t)) {
+	for _, x := range slices.Concat(samples(), wrongRules(), trial.Full()) {
 		checkAlone(t, x, alone(x))
 	}
 }
@@ -122,11 +122,11 @@ func checkMissing(t *testing.T, l []api.Rule, want string) {
 func TestMissingOfNothing(t *testing.T) {
 	checkMissing(t, nil, "a")
 	checkMissing(t, []api.Rule{}, "a")
-	checkMissing(t, parse(t, more), "a")
+	checkMissing(t, trial.Lines(trial.More), "a")
 }
 
 func TestMissingNone(t *testing.T) {
-	for _, l := range [][]api.Rule{table(t), ordinary(t), rich(t), slices.Concat(parse(t, more), table(t)), slices.Repeat(table(t), 20)} {
+	for _, l := range [][]api.Rule{trial.Table(), trial.Ordinary(), trial.Full(), slices.Concat(trial.Lines(trial.More), trial.Table()), slices.Repeat(trial.Table(), 20)} {
 		checkMissing(t, l, "")
 		slices.Reverse(l)
 		checkMissing(t, l, "")
@@ -151,7 +151,7 @@ func without(l []api.Rule, places ...int) []api.Rule {
 
 // Each by itself, and each two of them, of which the first one is told, in whatever order the others stand.
 func TestMissingFirst(t *testing.T) {
-	l := table(t)
+	l := trial.Table()
 	for i, one := range lefts() {
 		checkMissing(t, without(l, i), one)
 		for k := i + 1; k < len(l); k++ {
@@ -165,7 +165,7 @@ func TestMissingFirst(t *testing.T) {
 
 // The rules come one by one: what is missing goes from one kind to the next.
 func TestMissingGrows(t *testing.T) {
-	l := table(t)
+	l := trial.Table()
 	for i, left := range lefts() {
 		checkMissing(t, l[:i], left)
 		checkMissing(t, l[i+1:], lefts()[0])
@@ -174,7 +174,7 @@ func TestMissingGrows(t *testing.T) {
 
 // A rule of another What, or with more than the Left that is wanted, is not the one.
 func TestMissingInSpiteOfOthers(t *testing.T) {
-	l := table(t)
+	l := trial.Table()
 	for i, left := range lefts() {
 		less := without(l, i)
 		for what := range 10 {
@@ -194,7 +194,7 @@ func TestMissingInSpiteOfOthers(t *testing.T) {
 
 // What and Left alone tell that a rule is there.
 func TestMissingByWhatAndLeft(t *testing.T) {
-	l := table(t)
+	l := trial.Table()
 	for i := range l {
 		l[i].Cells, l[i].Prio, l[i].Line = "", -i, -1
 	}
@@ -202,9 +202,9 @@ func TestMissingByWhatAndLeft(t *testing.T) {
 }
 
 func TestMissingWords(t *testing.T) {
-	l := slices.Concat(table(t), samples())
+	l := slices.Concat(trial.Table(), samples())
 	for from := range len(l) {
-		for _, to := range []int{from, from + 1, wanted - 1, wanted, len(l)} {
+		for _, to := range []int{from, from + 1, trial.PlainRules - 1, trial.PlainRules, len(l)} {
 			if from <= to {
 				checkMissing(t, l[from:to], missing(l[from:to]))
 			}
@@ -232,15 +232,15 @@ func checkWords(t *testing.T, l []api.Rule) api.Errno {
 func TestTableOfNothing(t *testing.T) {
 	checkTable(t, nil, 0, api.ErrTable)
 	checkTable(t, []api.Rule{}, 0, api.ErrTable)
-	checkTable(t, table(t)[:0], 0, api.ErrTable)
+	checkTable(t, trial.Table()[:0], 0, api.ErrTable)
 }
 
 func TestTableAccepted(t *testing.T) {
-	checkTable(t, table(t), 0, api.OK)
-	checkTable(t, ordinary(t), 0, api.OK)
-	checkTable(t, rich(t), 0, api.OK)
-	for i, line := range strings.Split(strings.TrimSpace(more), "\n") {
-		if l := table(t, line); len(l) != wanted+1 {
+	checkTable(t, trial.Table(), 0, api.OK)
+	checkTable(t, trial.Ordinary(), 0, api.OK)
+	checkTable(t, trial.Full(), 0, api.OK)
+	for i, line := range strings.Split(strings.TrimSpace(trial.More), "\n") {
+		if l := trial.Table(line); len(l) != trial.PlainRules+1 {
 			t.Errorf("%d: %d rules", i, len(l))
 		} else {
 			checkTable(t, l, 0, api.OK)
@@ -266,11 +266,11 @@ func TestTableOfOneLineMore(t *testing.T) {
 		{"word ab 4 1", false}, {"word ab 12-4 1", false}, {"word ab 12-456 1", false}, {"word ab 12-1-2356-1 1", false}, {"word ab 12-1-236-1 1", true},
 		{"any ab 12346-2356 1", false}, {"end ab 5-5-5-4 1", false}, {"any ab 12346-1-1-1 1", true},
 	} {
-		l := table(t, "", "# x", x.line)
+		l := trial.Table("", "# x", x.line)
 		if x.ok {
 			checkTable(t, l, 0, api.OK)
 		} else {
-			checkTable(t, l, wanted+3, api.ErrTable)
+			checkTable(t, l, trial.PlainRules+3, api.ErrTable)
 		}
 	}
 }
@@ -285,17 +285,17 @@ func TestTableOfTwoLines(t *testing.T) {
 	} {
 		for _, order := range [][2]int{{0, 1}, {1, 0}} {
 			one, other := x[order[0]], x[order[1]]
-			checkTable(t, table(t, one), 0, api.OK)
-			checkTable(t, table(t, one, other), wanted+2, api.ErrTable)
-			checkTable(t, parse(t, one+"\n"+plain+"#\n"+other), wanted+3, api.ErrTable)
-			checkTable(t, parse(t, one+"\n\n"+other+"\n"+plain), 3, api.ErrTable)
+			checkTable(t, trial.Table(one), 0, api.OK)
+			checkTable(t, trial.Table(one, other), trial.PlainRules+2, api.ErrTable)
+			checkTable(t, trial.Lines(one+"\n"+trial.Plain+"#\n"+other), trial.PlainRules+3, api.ErrTable)
+			checkTable(t, trial.Lines(one+"\n\n"+other+"\n"+trial.Plain), 3, api.ErrTable)
 		}
 	}
 }
 
 // A rule that a table has twice is told where it stands again.
 func TestTableOfRulesAgain(t *testing.T) {
-	l := ordinary(t)
+	l := trial.Ordinary()
 	for i, x := range l {
 		x.Line = 1000
 		checkTable(t, append(slices.Clone(l), x), 1000, api.ErrTable)
@@ -306,8 +306,8 @@ func TestTableOfRulesAgain(t *testing.T) {
 
 // A rule that may not be, or not stand alone, in a table: behind its beginning, between two rules, for one of them.
 func TestTableOfWrongRules(t *testing.T) {
-	l := ordinary(t)
-	for k, x := range append(wrongRules(), parse(t, "digit 1 1-2\nany a 1-1 5\nsign num 1-1-1\nsign blk 4-1")...) {
+	l := trial.Ordinary()
+	for k, x := range append(wrongRules(), trial.Lines("digit 1 1-2\nany a 1-1 5\nsign num 1-1-1\nsign blk 4-1")...) {
 		at := k * 7 % len(l)
 		for _, line := range []int{0, -5, 77, math.MaxInt, math.MinInt} {
 			x.Line = line
@@ -320,43 +320,43 @@ func TestTableOfWrongRules(t *testing.T) {
 
 // Of several faults it is the first rule's, be it by itself or with one ahead.
 func TestTableFirstFault(t *testing.T) {
-	checkTable(t, table(t, "digit 1 1-2", "word ab 6 1"), wanted+1, api.ErrTable)
-	checkTable(t, table(t, "word ab 6 1", "digit 1 1-2"), wanted+1, api.ErrTable)
-	checkTable(t, table(t, "word ab 1 1", "word ab 6 1", "", "word cd 6 1", "any a 1 1"), wanted+2, api.ErrTable)
-	checkTable(t, parse(t, "any ab 1 1\nany a 1 1\nany a 1-1 1"), 2, api.ErrTable)
-	checkTable(t, parse(t, "word ab 1 1\nany a 1-1 1\nany b 1 1\nany a 1 1"), 2, api.ErrTable)
+	checkTable(t, trial.Table("digit 1 1-2", "word ab 6 1"), trial.PlainRules+1, api.ErrTable)
+	checkTable(t, trial.Table("word ab 6 1", "digit 1 1-2"), trial.PlainRules+1, api.ErrTable)
+	checkTable(t, trial.Table("word ab 1 1", "word ab 6 1", "", "word cd 6 1", "any a 1 1"), trial.PlainRules+2, api.ErrTable)
+	checkTable(t, trial.Lines("any ab 1 1\nany a 1 1\nany a 1-1 1"), 2, api.ErrTable)
+	checkTable(t, trial.Lines("word ab 1 1\nany a 1-1 1\nany b 1 1\nany a 1 1"), 2, api.ErrTable)
 }
 
 // The line that is told is the rule's own, not its place.
 func TestTableLine(t *testing.T) {
-	l := table(t, "word ab 4 1", "word cd 4 1")
+	l := trial.Table("word ab 4 1", "word cd 4 1")
 	for _, line := range []int{0, 1, -1, 5, math.MinInt, math.MaxInt} {
-		l[wanted].Line = line
+		l[trial.PlainRules].Line = line
 		checkTable(t, l, line, api.ErrTable)
 	}
 }
 
 func TestTableWithoutOne(t *testing.T) {
-	for _, l := range [][]api.Rule{table(t), ordinary(t), rich(t)} {
-		for i := range wanted {
+	for _, l := range [][]api.Rule{trial.Table(), trial.Ordinary(), trial.Full()} {
+		for i := range trial.PlainRules {
 			checkTable(t, without(l, i), 0, api.ErrTable)
 		}
-		checkTable(t, l[:wanted-1], 0, api.ErrTable)
+		checkTable(t, l[:trial.PlainRules-1], 0, api.ErrTable)
 		checkTable(t, l[1:], 0, api.ErrTable)
 	}
-	checkTable(t, parse(t, more), 0, api.ErrTable)
+	checkTable(t, trial.Lines(trial.More), 0, api.ErrTable)
 }
 
 // What clashes, or may not stand alone, comes ahead of how many there are, and this of what is missing.
 func TestTableOrder(t *testing.T) {
-	whole, more := fill(ordinary(t), 401), fill(parse(t, more), 401)
+	whole, lacking := trial.Fill(trial.Ordinary(), 401), trial.Fill(trial.Lines(trial.More), 401)
 	checkTable(t, whole[:400], 0, api.OK)
 	checkTable(t, whole, 0, api.ErrBound)
-	checkTable(t, fill(ordinary(t), 550), 0, api.ErrBound)
-	checkTable(t, more[:400], 0, api.ErrTable)
-	checkTable(t, more, 0, api.ErrBound)
+	checkTable(t, trial.Fill(trial.Ordinary(), 550), 0, api.ErrBound)
+	checkTable(t, lacking[:400], 0, api.ErrTable)
+	checkTable(t, lacking, 0, api.ErrBound)
 	checkTable(t, without(whole, 0), 0, api.ErrTable)
-	for _, l := range [][]api.Rule{whole, more} {
+	for _, l := range [][]api.Rule{whole, lacking} {
 		for _, at := range []int{0, 1, 60, 398, 399, 400, 401} {
 			for _, x := range []api.Rule{{Line: 5000}, {What: 5, Left: "a", Cells: "\x08", Line: 5000}} {
 				bad := slices.Insert(slices.Clone(l), at, x)
@@ -377,7 +377,7 @@ func TestTableOrder(t *testing.T) {
 
 // One rule of a table spoilt, in one thing.
 func TestTableSpoilt(t *testing.T) {
-	l := ordinary(t)
+	l := trial.Ordinary()
 	seen := map[api.Errno]int{}
 	for i, x := range l {
 		spoilt := []api.Rule{{}, {What: x.What}, {What: x.What, Left: x.Left}}
@@ -405,11 +405,11 @@ func TestTableSpoilt(t *testing.T) {
 
 // All short rows of some rules, by themselves and behind what is wanted.
 func TestTableWords(t *testing.T) {
-	of := parse(t, "any ab 16 1", "any ab 126 1", "begin ab 16-1 1", "begin cd 126-1 1", "inner cd 16-1 1", "end ef 16 1", "end ef 5 1", "word ab 16 1", "word cd 16 1", "word ef 45-6 1", "word gh 45-4 1", "digit 1 1-2", "sign blk 4", "sign ind 1", "mark . 16")
-	plain, seen := table(t), map[api.Errno]int{}
+	of := trial.Lines("any ab 16 1", "any ab 126 1", "begin ab 16-1 1", "begin cd 126-1 1", "inner cd 16-1 1", "end ef 16 1", "end ef 5 1", "word ab 16 1", "word cd 16 1", "word ef 45-6 1", "word gh 45-4 1", "digit 1 1-2", "sign blk 4", "sign ind 1", "mark . 16")
+	base, seen := trial.Table(), map[api.Errno]int{}
 	for l := range trial.Rows(of, 3) {
 		checkWords(t, l)
-		seen[checkWords(t, slices.Concat(plain, l))]++
+		seen[checkWords(t, slices.Concat(base, l))]++
 	}
 	if seen[api.OK] < 100 || seen[api.ErrTable] < 1000 || len(seen) != 2 {
 		t.Errorf("%v", seen)
@@ -418,10 +418,10 @@ func TestTableWords(t *testing.T) {
 
 // The same calls have the same answers, whatever was asked between.
 func TestEachTime(t *testing.T) {
-	l := rich(t)
+	l := trial.Full()
 	for range 5 {
 		checkTable(t, l, 0, api.OK)
-		checkTable(t, fill(l, 401), 0, api.ErrBound)
+		checkTable(t, trial.Fill(l, 401), 0, api.ErrBound)
 		checkTable(t, nil, 0, api.ErrTable)
 		checkMissing(t, l, "")
 		checkMissing(t, l[1:], "a")

@@ -6,6 +6,7 @@ import (
 
 	"stylus/api"
 	"stylus/check"
+	"stylus/trial"
 )
 
 // P9.1: In
@@ -34,7 +35,7 @@ var farNumbers = []int{math.MinInt, math.MinInt + 1, -1 << 32, -64, -9, -8, -2, 
 func TestInOfOtherRows(t *testing.T) {
 	for what := -1; what <= 9; what++ {
 		for _, row := range farNumbers {
-			checkIn(t, api.Rule{What: what}, row, row >= 1 && row <= 3 && in(api.Rule{What: what}, row))
+			checkIn(t, api.Rule{What: what}, row, row >= 1 && row <= 3 && trial.InRow(api.Rule{What: what}, row))
 		}
 	}
 }
@@ -43,7 +44,7 @@ func TestInOfOtherRows(t *testing.T) {
 func TestInOfOtherWhats(t *testing.T) {
 	for _, what := range farNumbers {
 		for row := -1; row <= 5; row++ {
-			checkIn(t, api.Rule{What: what}, row, in(api.Rule{What: what}, row))
+			checkIn(t, api.Rule{What: what}, row, trial.InRow(api.Rule{What: what}, row))
 		}
 	}
 }
@@ -54,7 +55,7 @@ func TestInByWhatAlone(t *testing.T) {
 		for row := 1; row <= 3; row++ {
 			for _, x := range []api.Rule{{Left: "a"}, {Left: "."}, {Cells: "\x01"}, {Prio: 100}, {Line: 7}, {Left: "cap", Cells: "\x20", Prio: -1, Line: -1}} {
 				x.What = what
-				checkIn(t, x, row, in(x, row))
+				checkIn(t, x, row, trial.InRow(x, row))
 			}
 		}
 	}
@@ -82,7 +83,7 @@ func TestClashExamples(t *testing.T) {
 
 func checkClashLines(t *testing.T, one, other string, want bool) {
 	t.Helper()
-	checkClash(t, parse(t, one)[0], parse(t, other)[0], want)
+	checkClash(t, trial.Lines(one)[0], trial.Lines(other)[0], want)
 }
 
 // One What, and one Left; next to it another What, or another Left.
@@ -99,7 +100,7 @@ func TestClashOfOneLeft(t *testing.T) {
 
 // A rule is one with itself, whether or not it may be.
 func TestClashOfOneRule(t *testing.T) {
-	for _, x := range append(ordinary(t), api.Rule{}, api.Rule{What: -1}, api.Rule{What: 9, Left: "A", Cells: "\xff"}) {
+	for _, x := range append(trial.Ordinary(), api.Rule{}, api.Rule{What: -1}, api.Rule{What: 9, Left: "A", Cells: "\xff"}) {
 		checkClash(t, x, x, true)
 		y := x
 		y.Cells, y.Prio, y.Line = "\x3f", 98, 1000

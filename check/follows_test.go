@@ -2,7 +2,6 @@ package check_test
 
 import (
 	"slices"
-	"strings"
 	"testing"
 
 	"stylus/api"
@@ -14,7 +13,7 @@ import (
 
 // Neither rules that are handed in nor the room behind their end are changed.
 func TestHandedInStays(t *testing.T) {
-	all := slices.Concat(ordinary(t), wrongRules())
+	all := slices.Concat(trial.Ordinary(), wrongRules())
 	for n := range all {
 		l := slices.Clone(all)
 		check.Table(l[:n])
@@ -32,7 +31,7 @@ func TestHandedInStays(t *testing.T) {
 
 // What is handed in is not kept: a table that is changed is another one.
 func TestHandedInNotKept(t *testing.T) {
-	l := ordinary(t)
+	l := trial.Ordinary()
 	checkTable(t, l, 0, api.OK)
 	l[1].Cells = l[0].Cells
 	checkTable(t, l, 2, api.ErrTable)
@@ -44,33 +43,13 @@ func TestHandedInNotKept(t *testing.T) {
 
 // P9.5
 
-// ofRow is those of a table's rules that are in one of its rows.
-func ofRow(l []api.Rule, row int) []api.Rule {
-	var out []api.Rule
-	for _, x := range l {
-		if in(x, row) {
-			out = append(out, x)
-		}
-	}
-	return out
-}
-
-// behind is the cells of rules, one behind the other.
-func behind(l []api.Rule) string {
-	s := ""
-	for _, x := range l {
-		s += x.Cells
-	}
-	return s
-}
-
 // readTwice is two unlike rows of some rules, of at most so many, of which the
 // cells of one begin the other one's though its rules do not; false, if there
 // are none such.
 func readTwice(of []api.Rule, most int) (one, other []api.Rule, ok bool) {
 	byCells := map[string][]api.Rule{}
 	for l := range trial.Rows(of, most) {
-		s := behind(l)
+		s := trial.Behind(l)
 		if same, ok := byCells[s]; ok {
 			return same, l, true
 		}
@@ -93,14 +72,14 @@ func beginsRow(a, b []api.Rule) bool { return len(a) <= len(b) && slices.Equal(a
 func checkReadOnce(t *testing.T, l []api.Rule, most int) {
 	t.Helper()
 	for row := 1; row <= 3; row++ {
-		if one, other, ok := readTwice(ofRow(l, row), most); ok {
+		if one, other, ok := readTwice(trial.OfRow(l, row), most); ok {
 			t.Errorf("row %d: %#v and %#v", row, one, other)
 		}
 	}
 }
 
 func TestReadInOneWay(t *testing.T) {
-	for _, l := range [][]api.Rule{table(t), ordinary(t)} {
+	for _, l := range [][]api.Rule{trial.Table(), trial.Ordinary()} {
 		checkTable(t, l, 0, api.OK)
 		checkReadOnce(t, l, 2)
 	}
@@ -108,13 +87,13 @@ func TestReadInOneWay(t *testing.T) {
 
 // Three rules behind each other: some letters, and what else could be taken for them.
 func TestReadInOneWayOfThree(t *testing.T) {
-	l := ordinary(t)
+	l := trial.Ordinary()
 	checkTable(t, l, 0, api.OK)
 	checkReadOnce(t, slices.Concat(l[:6], l[26:30], l[36:42], l[48:]), 3)
 }
 
-func TestReadInOneWayOfRich(t *testing.T) {
-	l := rich(t)
+func TestReadInOneWayOfFull(t *testing.T) {
+	l := trial.Full()
 	checkTable(t, l, 0, api.OK)
 	checkReadOnce(t, l, 2)
 }
@@ -122,7 +101,7 @@ func TestReadInOneWayOfRich(t *testing.T) {
 // Of all pairs of rules whose cells are made of two, those of which rows can be
 // read twice are of no accepted table; and of each such kind there are some.
 func TestReadTwiceNotAccepted(t *testing.T) {
-	base, seen := table(t), map[[2]bool]int{}
+	base, seen := trial.Table(), map[[2]bool]int{}
 	var cells []string
 	for s := range trial.Texts("\x23\x1c", 3) { // with which no rule of the base begins
 		cells = append(cells, s)
@@ -134,7 +113,7 @@ func TestReadTwiceNotAccepted(t *testing.T) {
 				_, e := check.Table(slices.Concat(base, pair))
 				twice := false
 				for row := 1; row <= 3; row++ {
-					_, _, ok := readTwice(slices.Concat(ofRow(pair, row), ofRow(base[:2], row)), 3)
+					_, _, ok := readTwice(slices.Concat(trial.OfRow(pair, row), trial.OfRow(base[:2], row)), 3)
 					twice = twice || ok
 				}
 				if twice && e == api.OK {
@@ -151,30 +130,9 @@ func TestReadTwiceNotAccepted(t *testing.T) {
 
 // P9.6
 
-// orders is a table's rules in many orders.
-func orders(l []api.Rule) [][]api.Rule {
-	back := slices.Clone(l)
-	slices.Reverse(back)
-	byCells := slices.SortedFunc(slices.Values(l), func(x, y api.Rule) int { return strings.Compare(x.Cells, y.Cells) })
-	byLeft := slices.SortedFunc(slices.Values(l), func(x, y api.Rule) int { return strings.Compare(y.Left, x.Left) })
-	all := [][]api.Rule{back, byCells, byLeft}
-	for n := range 20 {
-		from := n * len(l) / 20
-		all = append(all, slices.Concat(l[from:], l[:from]))
-		var steps []api.Rule
-		for first := range n + 2 {
-			for i := first; i < len(l); i += n + 2 {
-				steps = append(steps, l[i])
-			}
-		}
-		all = append(all, steps)
-	}
-	return all
-}
-
 func TestInAnotherOrder(t *testing.T) {
-	for _, l := range [][]api.Rule{table(t), ordinary(t), rich(t)} {
-		for _, other := range orders(l) {
+	for _, l := range [][]api.Rule{trial.Table(), trial.Ordinary(), trial.Full()} {
+		for _, other := range trial.Orders(l) {
 			if len(other) != len(l) {
 				t.Fatalf("%d of %d rules", len(other), len(l))
 			}
@@ -186,7 +144,7 @@ func TestInAnotherOrder(t *testing.T) {
 // A table that is not accepted is not so in any order.
 func TestNotInAnotherOrder(t *testing.T) {
 	for _, line := range []string{"word ab 6-1 1", "word ab 12-4 1", "end ab 5 1", "begin ab 13456-1 1", "digit 1 26", "word a 26 1", "word yes 12 1", "sign num 3456-1-1"} {
-		for _, other := range orders(table(t, more, line)) {
+		for _, other := range trial.Orders(trial.Table(trial.More, line)) {
 			if checkWords(t, other) != api.ErrTable {
 				t.Errorf("with %q: accepted", line)
 			}
@@ -196,13 +154,13 @@ func TestNotInAnotherOrder(t *testing.T) {
 
 // Without one rule that is not wanted, without those behind a place, ahead of one, every other one, and all.
 func TestWithoutSome(t *testing.T) {
-	for _, l := range [][]api.Rule{ordinary(t), rich(t)} {
+	for _, l := range [][]api.Rule{trial.Ordinary(), trial.Full()} {
 		var odd, even []int
-		for i := wanted; i < len(l); i++ {
+		for i := trial.PlainRules; i < len(l); i++ {
 			checkTable(t, without(l, i), 0, api.OK)
 			checkTable(t, l[:i], 0, api.OK)
-			checkTable(t, slices.Concat(l[:wanted], l[i:]), 0, api.OK)
-			checkTable(t, slices.Concat(l[:wanted], l[i:i+1]), 0, api.OK)
+			checkTable(t, slices.Concat(l[:trial.PlainRules], l[i:]), 0, api.OK)
+			checkTable(t, slices.Concat(l[:trial.PlainRules], l[i:i+1]), 0, api.OK)
 			if i%2 == 1 {
 				odd = append(odd, i)
 			} else {

@@ -1,0 +1,189 @@
+package trial
+
+import (
+	"slices"
+	"strconv"
+	"strings"
+
+	"stylus/api"
+	"stylus/rules"
+)
+
+// Plain is the text of a table that has just what is wanted, a rule a line.
+const Plain = `any a 1 50
+any b 12 50
+any c 14 50
+any d 145 50
+any e 15 50
+any f 124 50
+any g 1245 50
+any h 125 50
+any i 24 50
+any j 245 50
+any k 13 50
+any l 123 50
+any m 134 50
+any n 1345 50
+any o 135 50
+any p 1234 50
+any q 12345 50
+any r 1235 50
+any s 234 50
+any t 2345 50
+any u 136 50
+any v 1236 50
+any w 2456 50
+any x 1346 50
+any y 13456 50
+any z 1356 50
+mark . 256
+mark , 2
+mark ; 23
+mark : 25
+mark ! 235
+mark ? 236
+mark ' 3
+mark " 5-236
+mark - 36
+mark ( 5-126
+mark ) 5-345
+mark / 5-34
+digit 0 245
+digit 1 1
+digit 2 12
+digit 3 14
+digit 4 145
+digit 5 15
+digit 6 124
+digit 7 1245
+digit 8 125
+digit 9 24
+sign cap 6
+sign caps 45-6
+sign num 3456
+sign let 56-56
+sign e+ 46-1
+sign e- 46-3
+sign s+ 45-1
+sign s- 45-3
+sign n+ 5-1
+sign n- 5-3
+sign blk 4
+sign cont 456
+sign ind 2356
+`
+
+// PlainRules is how many rules those are.
+const PlainRules = 61
+
+// More is lines of contractions that go with them.
+const More = `any and 12346 1
+any st 34 10
+any for 123456 0
+any tion 56-1345-3 4
+any th 16 20
+any the 26-1-1-1 20
+any with 26-1-2 20
+begin con 46-14 5
+begin ab 56-1 5
+begin a 56-12 5
+begin an 46-2 99
+inner con 46-14 5
+inner a 46-2 20
+inner ea 156 20
+end ness 56-1234 3
+end ea 56-12 3
+end n 56-1 3
+word but 12 0
+word and 14 0
+word a 16 0
+word b 12-12 9
+word knowledge 13 0
+`
+
+// Lines is the rules of lines, each of which must be one's, for a test that
+// wants others than it says would show nothing.
+func Lines(lines ...string) []api.Rule {
+	l, line, e := rules.Parse(strings.Join(lines, "\n"))
+	if e != api.OK {
+		panic("trial: no rule's line: " + strconv.Itoa(line))
+	}
+	return l
+}
+
+// Table is what is wanted, and those lines.
+func Table(lines ...string) []api.Rule {
+	return Lines(Plain + strings.Join(lines, "\n"))
+}
+
+// Ordinary is what is wanted, and some contractions.
+func Ordinary() []api.Rule { return Table(More) }
+
+// Fill has rules behind others until there are that many; they clash with none
+// of an ordinary table.
+func Fill(l []api.Rule, most int) []api.Rule {
+	l = slices.Clone(l)
+	for i := len(l); i < most; i++ {
+		left := string([]byte{'q', byte('a' + i/26%26), byte('a' + i%26)})
+		cells := string([]byte{0x33, byte(0x10 + i%16), byte(0x10 + i/16)})
+		l = append(l, api.Rule{What: 1 + i%5, Left: left, Cells: cells, Prio: i % 100, Line: i + 1})
+	}
+	return l
+}
+
+// Full is a table of as many rules as may be.
+func Full() []api.Rule { return Fill(Ordinary(), api.MaxRules) }
+
+// InRow says the document's words on a rule and a row of a table.
+func InRow(x api.Rule, row int) bool {
+	switch row {
+	case 1:
+		return slices.Contains([]int{1, 2, 6, 8}, x.What)
+	case 2:
+		return slices.Contains([]int{1, 3, 4, 6, 8}, x.What)
+	case 3:
+		return slices.Contains([]int{7, 6, 8}, x.What)
+	}
+	return false
+}
+
+// OfRow is those of a table's rules that are in one of its rows.
+func OfRow(l []api.Rule, row int) []api.Rule {
+	var out []api.Rule
+	for _, x := range l {
+		if InRow(x, row) {
+			out = append(out, x)
+		}
+	}
+	return out
+}
+
+// Behind is the cells of rules, one behind the other.
+func Behind(l []api.Rule) string {
+	s := ""
+	for _, x := range l {
+		s += x.Cells
+	}
+	return s
+}
+
+// Orders is a table's rules in many orders.
+func Orders(l []api.Rule) [][]api.Rule {
+	back := slices.Clone(l)
+	slices.Reverse(back)
+	byCells := slices.SortedFunc(slices.Values(l), func(x, y api.Rule) int { return strings.Compare(x.Cells, y.Cells) })
+	byLeft := slices.SortedFunc(slices.Values(l), func(x, y api.Rule) int { return strings.Compare(y.Left, x.Left) })
+	all := [][]api.Rule{back, byCells, byLeft}
+	for n := range 20 {
+		from := n * len(l) / 20
+		all = append(all, slices.Concat(l[from:], l[:from]))
+		var steps []api.Rule
+		for first := range n + 2 {
+			for i := first; i < len(l); i += n + 2 {
+				steps = append(steps, l[i])
+			}
+		}
+		all = append(all, steps)
+	}
+	return all
+}
