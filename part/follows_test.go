@@ -167,7 +167,7 @@ func (a asked) checkLeast(run string, at, most int) {
 
 // The tables let places have several rules of one Prio, and some of one Prio and Left, or there would be nothing to tell apart.
 func TestTablesTellApart(t *testing.T) {
-	a := ready(t, rich())
+	a := ready(t, trial.Crowded())
 	sames, longer, alike := 0, 0, 0
 	for run := range trial.Texts("ab", 7) {
 		for at := range len(run) {

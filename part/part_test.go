@@ -9,11 +9,10 @@ import (
 	"stylus/api"
 	"stylus/part"
 	"stylus/trial"
-	"stylus/trie"
 )
 
 func TestExamples(t *testing.T) {
-	a := ready(t, example())
+	a := ready(t, trial.Parts())
 	for run, want := range map[string]string{
 		"sand": "s and", "candy": "c and y", "ness": "n e s s", "illness": "i l l ness", "contest": "con t e st", "icon": "i c o n",
 	} {
@@ -109,7 +108,7 @@ func TestEligibleOfOthers(t *testing.T) {
 				for _, number := range append([]int{0, 1, 99, 100, math.MaxInt}, far...) {
 					for _, cells := range []string{"", "\x00", "\x01", "\xff", "\x01\x01\x01\x01\x01"} {
 						x := api.Rule{What: what, Left: left, Cells: cells, Prio: number, Line: number}
-						want := slices.Contains(allowed(at == 0, true), what)
+						want := slices.Contains(trial.Allowed(at == 0, true), what)
 						if part.Eligible(x, run, at, 100) != want {
 							t.Errorf("%v at %d: %v", x, at, !want)
 						}
@@ -366,10 +365,7 @@ func TestNoPlace(t *testing.T) {
 }
 
 func TestNobodys(t *testing.T) {
-	var none *trie.Trie
-	var empty trie.Trie
-	refused, _, _ := trie.New(trial.Table()[1:])
-	for _, tr := range []*trie.Trie{none, &empty, new(trie.Trie), {}, refused} {
+	for _, tr := range trial.Nobodys() {
 		a := asked{t, tr, nil}
 		for _, run := range []string{"", "a", "and", "A", "a1", "\xff", strings.Repeat("sand", 1000)} {
 			for _, at := range append([]int{0, 1, 2, 3, math.MaxInt}, far...) {

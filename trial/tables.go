@@ -119,6 +119,36 @@ func Table(lines ...string) []api.Rule {
 // Ordinary is what is wanted, and some contractions.
 func Ordinary() []api.Rule { return Table(More) }
 
+// PartsLines is the lines of the chapter's examples of runs (11), beside what is
+// wanted.
+const PartsLines = `any and 12346 1
+any st 34 10
+begin con 46-14 5
+end ness 56-234 3
+inner ea 46-15 20
+`
+
+// Parts is the table of those examples.
+func Parts() []api.Rule { return Table(PartsLines) }
+
+// Crowded has rules of each What of letters with all Lefts of up to five letters
+// a and b, of few Prios, so that of those that may be taken at a place of a run
+// several are of the same one.
+func Crowded() []api.Rule {
+	l, i := Table(), 0
+	for left := range Texts("ab", 5) {
+		for what := 1; what <= 5 && left != ""; what++ {
+			cells := string([]byte{0x33, byte(0x10 + i%16), byte(0x10 + i/16)})
+			prio := i * i / 7 % 5
+			i++
+			if what > 1 || len(left) > 1 { // any a and any b are wanted, and there
+				l = append(l, api.Rule{What: what, Left: left, Cells: cells, Prio: prio, Line: len(l) + 1})
+			}
+		}
+	}
+	return l
+}
+
 // Fill has rules behind others until there are that many; they clash with none
 // of an ordinary table.
 func Fill(l []api.Rule, most int) []api.Rule {

@@ -28,10 +28,12 @@ func TestLines(t *testing.T) {
 func TestTables(t *testing.T) {
 	plain := trial.Table()
 	for most, l := range map[int][]api.Rule{
-		trial.PlainRules:      plain,
-		trial.PlainRules + 2:  trial.Table("any and 12346 1", "", "word but 12 0"),
-		trial.PlainRules + 22: trial.Ordinary(),
-		api.MaxRules:          trial.Full(),
+		trial.PlainRules:       plain,
+		trial.PlainRules + 2:   trial.Table("any and 12346 1", "", "word but 12 0"),
+		trial.PlainRules + 5:   trial.Parts(),
+		trial.PlainRules + 22:  trial.Ordinary(),
+		trial.PlainRules + 308: trial.Crowded(),
+		api.MaxRules:           trial.Full(),
 	} {
 		if line, e := check.Table(l); e != api.OK || len(l) != most || !slices.Equal(l[:trial.PlainRules], plain) {
 			t.Errorf("%d rules, not %d; %d, %d", len(l), most, line, e)

@@ -440,9 +440,7 @@ func TestRules(t *testing.T) {
 // P10.4
 
 func TestNobodys(t *testing.T) {
-	var none *trie.Trie
-	var empty trie.Trie
-	for i, tr := range []*trie.Trie{none, &empty, new(trie.Trie), {}} {
+	for i, tr := range trial.Nobodys() {
 		if got := tr.Rules(); len(got) != 0 {
 			t.Errorf("%d: Rules: %v", i, got)
 		}
