@@ -12,7 +12,7 @@ import (
 )
 
 func TestExamples(t *testing.T) {
-	ready(t, example()).lists(map[string]string{
+	ready(t, trial.Chunks()).lists(map[string]string{
 		"but": "but", "But": "cap but", "BUT": "caps but", "bUT": "b caps u t",
 		"b": "let b", "B": "let cap b", "x": "let x",
 		"Sand": "cap s and", "sanD": "s a n cap d", "SANd": "cap s cap a cap n d",
@@ -23,7 +23,7 @@ func TestExamples(t *testing.T) {
 
 // Where each piece stands: a sign that takes no token at the one that comes behind it, let ahead of all at 0.
 func TestPlaces(t *testing.T) {
-	a := ready(t, example())
+	a := ready(t, trial.Chunks())
 	at := func(what int, left string, from, size int) api.Piece {
 		return api.Piece{Rule: a.number(what, left), From: from, Len: size}
 	}
@@ -80,7 +80,7 @@ func TestCheckOfAts(t *testing.T) {
 // P12.1, P12.2, P12.3
 
 func TestNoToken(t *testing.T) {
-	for _, l := range tables() {
+	for _, l := range trial.Tables() {
 		a := ready(t, l)
 		for _, none := range [][]api.Tok{nil, {}, trial.Toks("ab")[1:1]} {
 			if got := a.of(none); len(got) > 0 {
@@ -92,7 +92,7 @@ func TestNoToken(t *testing.T) {
 
 // One token of each sort, by each table; by one of just what is wanted, each is taken as itself.
 func TestOneToken(t *testing.T) {
-	for _, l := range tables() {
+	for _, l := range trial.Tables() {
 		a := ready(t, l)
 		for c := range 256 {
 			for kind := 1; kind <= 3; kind++ {
@@ -162,7 +162,7 @@ func TestWordOfWordsAlone(t *testing.T) {
 
 // A run at a chunk's beginning, within it, at its end; behind each sort of token.
 func TestRunsOfChunks(t *testing.T) {
-	ready(t, example()).lists(map[string]string{
+	ready(t, trial.Chunks()).lists(map[string]string{
 		"sand.": "s and .", ".sand": ". s and", ".sand.": ". s and .", "sand.and": "s and . and", "and-and-and": "and - and - and",
 		"1sand": "num 1 let s and", "12sand": "num 1 2 let s and", "1Sand": "num 1 let cap s and", "1SAND": "num 1 let caps s and", "1sAND": "num 1 let s caps and",
 		".Sand": ". cap s and", "<esand": "e+ s and", ">esand": "e- s and", "<sSAND>s": "s+ caps s and s-", "1<nsand": "num 1 n+ s and", "1.sand": "num 1 . s and",
@@ -173,7 +173,7 @@ func TestRunsOfChunks(t *testing.T) {
 
 // A digit behind a digit, and behind each other sort of token.
 func TestDigits(t *testing.T) {
-	ready(t, example()).lists(map[string]string{
+	ready(t, trial.Chunks()).lists(map[string]string{
 		"7": "num 7", "77": "num 7 7", "0123456789": "num 0 1 2 3 4 5 6 7 8 9", "a7": "a num 7", "A7": "cap a num 7", "AB7": "caps a b num 7", ".7": ". num 7", "7.7": "num 7 . num 7",
 		"7..7": "num 7 . . num 7", "<e7": "e+ num 7", ">e7": "e- num 7", "7<e7>e7": "num 7 e+ num 7 e- num 7", "7a7a7": "num 7 let a num 7 let a num 7", "1,000": "num 1 , num 0 0 0",
 		"1e2": "num 1 let e num 2", "1<e2": "num 1 e+ num 2", "12>s": "num 1 2 s-",
@@ -182,14 +182,14 @@ func TestDigits(t *testing.T) {
 
 // Openings and closings need not be paired, nor in any order.
 func TestOpenings(t *testing.T) {
-	ready(t, example()).lists(map[string]string{
+	ready(t, trial.Chunks()).lists(map[string]string{
 		"<e<s<n>n>s>e": "e+ s+ n+ n- s- e-", ">e<e": "e- e+", ">n>n": "n- n-", "<ee>e": "e+ e e-", "<ss": "s+ s", "b>n": "b n-", "<e.>e": "e+ . e-", "<eB>e": "e+ cap b e-",
 	})
 }
 
 // A run's rest is all capitals from its first place on, from one within, or has just one capital, at its end.
 func TestCapitals(t *testing.T) {
-	ready(t, example()).lists(map[string]string{
+	ready(t, trial.Chunks()).lists(map[string]string{
 		"SAND": "caps s and", "ST": "caps st", "CON": "caps con", "NESS": "caps n e s s", "ILLNESS": "caps i l l ness", "TEA": "caps t ea",
 		"sAND": "s caps and", "saND": "s a caps n d", "sanD": "s a n cap d", "cST": "c caps st", "aCON": "a caps c o n", "illNESS": "i l l caps ness", "tEA": "t caps ea", "eA": "e cap a",
 		"SaND": "cap s a caps n d", "ILLnESS": "cap i cap l cap l n caps e s s", "aB": "a cap b", "AB": "caps a b", "aBC": "a caps b c", "ABc": "cap a cap b c",
@@ -198,7 +198,7 @@ func TestCapitals(t *testing.T) {
 
 // A capital with small letters behind it, with none, with a capital behind it: no more letters are taken than there are up to the next capital.
 func TestCapitalsWithOthers(t *testing.T) {
-	ready(t, example()).lists(map[string]string{
+	ready(t, trial.Chunks()).lists(map[string]string{
 		"And": "cap and", "St": "cap st", "Con": "cap con", "Ness": "cap n e s s", "Ea": "cap e a", "tEa": "t cap ea", "illNess": "i l l cap ness", "aCon": "a cap c o n",
 		"A": "cap a", "aA": "a cap a", "AaA": "cap a a cap a", "AAa": "cap a cap a a", "AndAnd": "cap and cap and", "ANdAN": "cap a cap n d caps a n",
 		"anD": "a n cap d", "aNd": "a cap n d", "AnD": "cap a n cap d", "ANd": "cap a cap n d", "sTs": "s cap t s", "stSt": "st cap st", "sTSt": "s cap t cap st",
@@ -216,7 +216,7 @@ func TestBeyondCapitals(t *testing.T) {
 
 // Spelled cells that are some word's, as they are, behind those of cap, behind those of caps; and some that are not quite.
 func TestGuarded(t *testing.T) {
-	ready(t, alike()).lists(map[string]string{
+	ready(t, trial.Alike()).lists(map[string]string{
 		"b": "let b", "bA": "b cap a", "bb": "bb", "bbb": "let bb b", "bba": "let bb a", "bab": "let b ab", ".": "let .", "..": "let . .", "...": ". . .", "b.": "let b .", ".b": "let . b", "b,": "b ,", "bb.": "let bb .",
 		"b<e": "let b e+", "b1": "let b num 1", "bB": "let b cap b", "bBb": "let b cap b b", "BbB": "cap bb cap b", "BBb": "let cap b cap b b", "b2": "b num 2", "1b": "num 1 let b", "b>e": "b e-",
 		"B": "let cap b", "BA": "caps ba", "BAB": "let caps b ab", "BB": "caps bb", "BBA": "let caps bb a", "Bba": "let cap bb a", "Bab": "let cap b ab", "B.": "let cap b .", "BB.": "let caps bb .", "Bb.": "let cap bb .",
@@ -227,7 +227,7 @@ func TestGuarded(t *testing.T) {
 
 // By the same table, but without words, nothing is guarded, and nothing is a word.
 func TestNotGuarded(t *testing.T) {
-	a := ready(t, slices.DeleteFunc(alike(), func(x api.Rule) bool { return x.What == api.RuleWord }))
+	a := ready(t, slices.DeleteFunc(trial.Alike(), func(x api.Rule) bool { return x.What == api.RuleWord }))
 	for l := range trial.Rows(trial.Toks("abAB1.<e>e"), 4) {
 		if got := a.of(l); !slices.Equal(got, a.spelled(l)) || a.asWord(l) != nil {
 			t.Errorf("%s: %s", trial.Told(l), a.lefts(got))
@@ -237,7 +237,7 @@ func TestNotGuarded(t *testing.T) {
 
 // P12.2, P12.3: what the words say, on all short chunks of a few sorts of tokens, and on pieces side by side.
 func TestWords(t *testing.T) {
-	for _, l := range tables() {
+	for _, l := range trial.Tables() {
 		a := ready(t, l)
 		for l := range chunks() {
 			a.of(l)
@@ -247,7 +247,7 @@ func TestWords(t *testing.T) {
 
 // Each word, and each Left of more letters than one, cased in each way, with others beside it.
 func TestLeftsCased(t *testing.T) {
-	for _, l := range [][]api.Rule{example(), alike(), trial.Ordinary(), trial.Crowded()} {
+	for _, l := range [][]api.Rule{trial.Chunks(), trial.Alike(), trial.Ordinary(), trial.Crowded()} {
 		a := ready(t, l)
 		for _, x := range l {
 			if x.What > 5 || x.What < 5 && len(x.Left) == 1 {
@@ -267,7 +267,7 @@ func TestLeftsCased(t *testing.T) {
 
 // Numbers are those of the rules in their order.
 func TestNumbers(t *testing.T) {
-	for _, l := range tables() {
+	for _, l := range trial.Tables() {
 		for _, other := range trial.Orders(l) {
 			a := ready(t, other)
 			for _, s := range []string{"", "b", "B", "BB", "bab", "aBabb", "But", "a1b2", "conTHEness", "<eWITH>e.", "12.5and", "CAN-aBBA"} {
@@ -279,7 +279,7 @@ func TestNumbers(t *testing.T) {
 
 // Long chunks are taken to their end, however they are cased.
 func TestLongChunks(t *testing.T) {
-	for _, l := range tables() {
+	for _, l := range trial.Tables() {
 		a := ready(t, l)
 		for _, piece := range []string{"a", "A", "aB", "conTHEness", "Abbab", "1", "a1", "<e", ".", "aaaaaaaaaaaaaaaaB"} {
 			s := strings.Repeat(piece, 900/len(piece))
@@ -313,7 +313,7 @@ func TestNoChunk(t *testing.T) {
 			}
 		}
 	}
-	for _, table := range [][]api.Rule{example(), crowded()} {
+	for _, table := range [][]api.Rule{trial.Chunks(), trial.Packed()} {
 		a := ready(t, table)
 		for i, x := range wrong {
 			a.refused([]api.Tok{x})
@@ -349,7 +349,7 @@ func TestNobodys(t *testing.T) {
 
 // Each rule's cells, and those of some behind each other; where they stand counts for nothing.
 func TestCells(t *testing.T) {
-	for _, table := range tables() {
+	for _, table := range trial.Tables() {
 		a := ready(t, table)
 		var l []api.Piece
 		for i, x := range table {
@@ -367,7 +367,7 @@ func TestCells(t *testing.T) {
 			}
 		}
 	}
-	a := ready(t, example())
+	a := ready(t, trial.Chunks())
 	if got := chunk.Cells(a.Trie, a.of(trial.Toks("a1bC"))); got != "\x01\x3c\x01\x30\x30\x03\x20\x09" {
 		t.Errorf("%q", got)
 	}
@@ -375,7 +375,7 @@ func TestCells(t *testing.T) {
 
 // A number below 0, of the rule behind the last one, far beyond; alone, and at each place among others.
 func TestCellsOfNone(t *testing.T) {
-	for _, table := range tables() {
+	for _, table := range trial.Tables() {
 		a := ready(t, table)
 		for _, rule := range []int{math.MinInt, -1 << 32, -256, -2, -1, len(table), len(table) + 1, 400, 401, 1 << 32, math.MaxInt - 1, math.MaxInt} {
 			for at := range 4 {

@@ -37,7 +37,7 @@ func chunks() iter.Seq[[]api.Tok] {
 
 // Neither tokens nor pieces that are handed in are changed, nor the room behind their ends, nor the table.
 func TestHandedInStays(t *testing.T) {
-	for _, table := range tables() {
+	for _, table := range trial.Tables() {
 		a := ready(t, table)
 		for _, s := range []string{"", "b", "But", "BUT", "a1bB2.<e>e", "conTHEness", "a b", "<p"} {
 			toks := append(trial.Toks(s), trial.Toks("xyz")...)
@@ -69,7 +69,7 @@ func TestAnswersNewMemory(t *testing.T) {
 		func(a asked, l []api.Tok) []api.Piece { p, _ := chunk.Spelled(a.Trie, l); return p },
 		func(a asked, l []api.Tok) []api.Piece { p, _ := chunk.Word(a.Trie, l); return p },
 	}
-	for _, table := range tables() {
+	for _, table := range trial.Tables() {
 		a := ready(t, table)
 		for _, s := range []string{"a", "b", "But", "BUT", "a1bB2.<e>e", "conTHEness"} {
 			for i, call := range calls {
@@ -93,7 +93,7 @@ func TestAnswersNewMemory(t *testing.T) {
 // The same calls have the same answers, whatever was asked between, and of whichever table.
 func TestEachTime(t *testing.T) {
 	for range 3 {
-		for _, table := range tables() {
+		for _, table := range trial.Tables() {
 			a := ready(t, table)
 			for range 3 {
 				for _, s := range []string{"b", "But", "a1bB2.<e>e", "conTHEness", ""} {
@@ -109,7 +109,7 @@ func TestEachTime(t *testing.T) {
 
 // Each token is taken by one piece, in order, be the chunk a word, spelled, or whichever.
 func TestEachOnce(t *testing.T) {
-	for _, table := range tables() {
+	for _, table := range trial.Tables() {
 		a := ready(t, table)
 		for l := range chunks() {
 			p, _ := chunk.Of(a.Trie, l)
@@ -162,7 +162,7 @@ func takes(x api.Rule, sorts, text string) bool {
 
 // No two chunks have the same cells.
 func TestToldApart(t *testing.T) {
-	for _, table := range tables() {
+	for _, table := range trial.Tables() {
 		a := ready(t, table)
 		by := map[string]string{}
 		for l := range chunks() {
@@ -181,7 +181,7 @@ func TestToldApart(t *testing.T) {
 
 // A chunk has the same pieces wherever its tokens stand in the source.
 func TestElsewhere(t *testing.T) {
-	for _, table := range tables() {
+	for _, table := range trial.Tables() {
 		a := ready(t, table)
 		for l := range trial.Rows(trial.Toks("abB1.<e"), 3) {
 			for i := range l {
@@ -195,7 +195,7 @@ func TestElsewhere(t *testing.T) {
 // The tables have chunks whose spelled cells are a word's, in each way, and ones where they are another chunk's, or there would be nothing to tell apart.
 func TestTablesTellApart(t *testing.T) {
 	guards, words, same := 0, 0, 0
-	for _, table := range tables() {
+	for _, table := range trial.Tables() {
 		a := ready(t, table)
 		by := map[string]string{}
 		for l := range chunks() {

@@ -131,6 +131,47 @@ inner ea 46-15 20
 // Parts is the table of those examples.
 func Parts() []api.Rule { return Table(PartsLines) }
 
+// ChunksLines is the lines of the chapter's examples of chunks (12), beside what
+// is wanted.
+const ChunksLines = PartsLines + `word but 12 0
+word it 1346 0
+`
+
+// Chunks is the table of those examples.
+func Chunks() []api.Rule { return Table(ChunksLines) }
+
+// Fores is the table of the chapter's examples of flows (13).
+func Fores() []api.Rule { return Table(ChunksLines, "word can 14 0") }
+
+// alike is lines of words that are written as other chunks are spelled: as these
+// are, or as they are behind cap, or behind caps.
+const alike = `begin bb 16 5
+inner ab 46-2 5
+word a 12 0
+word aa 12-12 0
+word ab 12-1 0
+word aaa 12-12-12 0
+word abb 12-1-1 0
+word ba 1-1-1 0
+word c 16-1 0
+word cc 12-46-2 0
+word ccc 16-12 0
+word d 256 0
+word dd 256-256 0
+word db 12-256 0
+word bd 256-12 0
+word de 16-256 0
+word e 12-46-1 0
+word f 12-3456-1 0
+word g 12-6-12 0
+word h 12-6-12-12 0
+word i 12-12-6-12 0
+word j 12-12-256 0
+`
+
+// Alike is what is wanted, and those.
+func Alike() []api.Rule { return Table(alike) }
+
 // Crowded has rules of each What of letters with all Lefts of up to five letters
 // a and b, of few Prios, so that of those that may be taken at a place of a run
 // several are of the same one.
@@ -163,6 +204,19 @@ func Fill(l []api.Rule, most int) []api.Rule {
 
 // Full is a table of as many rules as may be.
 func Full() []api.Rule { return Fill(Ordinary(), api.MaxRules) }
+
+// Packed is as many rules as may be, by which each place of letters a and b has
+// several, with some words that look like other chunks.
+func Packed() []api.Rule {
+	return Fill(append(Crowded(), Lines("word d 256 0", "word dd 14 0", "word ddd 14-256 0")...), api.MaxRules)
+}
+
+// Tables is accepted ones: of what is wanted, of the chapters' examples, of words
+// that look like other chunks, of some contractions, and of as many rules as may
+// be.
+func Tables() [][]api.Rule {
+	return [][]api.Rule{Table(), Fores(), Alike(), Ordinary(), Full(), Packed()}
+}
 
 // InRow says the document's words on a rule and a row of a table.
 func InRow(x api.Rule, row int) bool {

@@ -27,16 +27,23 @@ func TestLines(t *testing.T) {
 // Each table is accepted, and begins with what is wanted.
 func TestTables(t *testing.T) {
 	plain := trial.Table()
-	for most, l := range map[int][]api.Rule{
-		trial.PlainRules:       plain,
-		trial.PlainRules + 2:   trial.Table("any and 12346 1", "", "word but 12 0"),
-		trial.PlainRules + 5:   trial.Parts(),
-		trial.PlainRules + 22:  trial.Ordinary(),
-		trial.PlainRules + 308: trial.Crowded(),
-		api.MaxRules:           trial.Full(),
+	for _, x := range []struct {
+		l    []api.Rule
+		most int
+	}{
+		{plain, trial.PlainRules},
+		{trial.Table("any and 12346 1", "", "word but 12 0"), trial.PlainRules + 2},
+		{trial.Parts(), trial.PlainRules + 5},
+		{trial.Chunks(), trial.PlainRules + 7},
+		{trial.Fores(), trial.PlainRules + 8},
+		{trial.Alike(), trial.PlainRules + 22},
+		{trial.Ordinary(), trial.PlainRules + 22},
+		{trial.Crowded(), trial.PlainRules + 308},
+		{trial.Packed(), api.MaxRules},
+		{trial.Full(), api.MaxRules},
 	} {
-		if line, e := check.Table(l); e != api.OK || len(l) != most || !slices.Equal(l[:trial.PlainRules], plain) {
-			t.Errorf("%d rules, not %d; %d, %d", len(l), most, line, e)
+		if line, e := check.Table(x.l); e != api.OK || len(x.l) != x.most || !slices.Equal(x.l[:trial.PlainRules], plain) {
+			t.Errorf("%d rules, not %d; %d, %d", len(x.l), x.most, line, e)
 		}
 	}
 	for i := range plain {
@@ -89,5 +96,19 @@ func TestOrders(t *testing.T) {
 	}
 	if len(seen) < 40 {
 		t.Errorf("%d orders", len(seen))
+	}
+}
+
+// No table is another one in the list of them, and all are accepted.
+func TestListOfTables(t *testing.T) {
+	seen := map[string]bool{}
+	for _, l := range trial.Tables() {
+		if line, e := check.Table(l); e != api.OK {
+			t.Errorf("%d rules: %d, %d", len(l), line, e)
+		}
+		seen[trial.Behind(l)] = true
+	}
+	if len(seen) != len(trial.Tables()) || len(seen) < 6 {
+		t.Errorf("%d tables", len(seen))
 	}
 }
