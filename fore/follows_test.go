@@ -1,7 +1,6 @@
 package fore_test
 
 import (
-	"iter"
 	"slices"
 	"strings"
 	"testing"
@@ -11,33 +10,11 @@ import (
 	"stylus/trial"
 )
 
-// texts goes over all short ones of a few sorts of tokens each, and over pieces side by side. Some come more than once.
-func texts() iter.Seq[[]api.Tok] {
-	return func(yield func([]api.Tok) bool) {
-		for _, x := range []struct {
-			toks string
-			most int
-		}{{"ab B", 5}, {"a1 .<e>e", 4}, {"bB 1<e", 4}, {"d D", 5}, {"st S", 4}, {"12 ,", 4}, {" <s>s<n>n", 4}} {
-			for l := range trial.Rows(trial.Toks(x.toks), x.most) {
-				if !yield(l) {
-					return
-				}
-			}
-		}
-		pieces := []string{"con", "THE", "And", "it", "X", "1", "<e", "but", " ", "can"}
-		for l := range trial.Rows(pieces, 3) {
-			if !yield(trial.Toks(strings.Join(l, ""))) {
-				return
-			}
-		}
-	}
-}
-
-// The words hold on all of them, and on all trees' flows.
+// The words hold on all short texts, and on all trees' flows.
 func TestTexts(t *testing.T) {
 	for _, table := range trial.Tables() {
 		a := ready(t, table)
-		for l := range texts() {
+		for l := range trial.TextToks() {
 			a.says(l)
 		}
 	}
@@ -91,7 +68,7 @@ func TestAnswersNewMemory(t *testing.T) {
 			a.says(trial.Toks(s))
 		}
 		for _, s := range []string{"{p but b}{h1 A}{k}", "{l{i a{l{i B 1}}}{i{e x}}}", "{t{r{c a}{c b}}{r{c}{c but}}}"} {
-			l := toks(t, s)
+			l := trial.FlatOf(s)
 			want := a.flows(l)
 			for i := range want {
 				one, _ := fore.Of(a.Trie, l)
@@ -107,7 +84,7 @@ func TestAnswersNewMemory(t *testing.T) {
 				}
 			}
 			clear(l)
-			a.has(toks(t, s))
+			a.has(trial.FlatOf(s))
 		}
 	}
 }
@@ -132,7 +109,7 @@ func TestEachTime(t *testing.T) {
 					a.refused(trial.Toks(s + "\n"))
 				}
 				for _, s := range []string{"{p but b}{k}", "{l{i a{l{i B}}}{i}}", ""} {
-					a.has(toks(t, s))
+					a.has(trial.FlatOf(s))
 					a.refusedOf(trial.Toks("<p"), api.ErrForm)
 				}
 			}
@@ -188,7 +165,7 @@ func (a asked) noChar(l []api.Tok) {
 func TestBlanks(t *testing.T) {
 	for _, table := range trial.Tables() {
 		a := ready(t, table)
-		for l := range texts() {
+		for l := range trial.TextToks() {
 			cells, at, _ := fore.Text(a.Trie, l)
 			var blanks, spaces []int
 			for i := range len(cells) {
@@ -212,7 +189,7 @@ func TestBlanks(t *testing.T) {
 func TestEachToken(t *testing.T) {
 	for _, table := range trial.Tables() {
 		a := ready(t, table)
-		for l := range texts() {
+		for l := range trial.TextToks() {
 			_, at, _ := fore.Text(a.Trie, l)
 			for i, x := range l {
 				letter := x.Kind == 1 && strings.Contains("abcdefghijklmnopqrstuvwxyz", strings.ToLower(string([]byte{x.Ch})))
@@ -232,7 +209,7 @@ func TestToldApart(t *testing.T) {
 	for _, table := range trial.Tables() {
 		a := ready(t, table)
 		by := map[string]string{}
-		for l := range texts() {
+		for l := range trial.TextToks() {
 			cells, _, _ := fore.Text(a.Trie, l)
 			a.apart(by, l, cells)
 		}

@@ -22,7 +22,7 @@ type flow struct {
 // list asks for the flows of a source, and whether the words say the same; it answers them.
 func (a asked) list(s string, want ...flow) []api.Flow {
 	a.Helper()
-	got := a.has(toks(a.T, s))
+	got := a.has(trial.FlatOf(s))
 	if !slices.EqualFunc(got, want, func(x api.Flow, y flow) bool {
 		return x.Code == y.code && x.Depth == y.depth && x.Cells == a.cells(y.lefts)
 	}) {
@@ -201,7 +201,7 @@ func TestOfBlocks(t *testing.T) {
 	a.list("{k}{p a}{k}{k}{h2 b}{k}", flow{10, 0, ""}, flow{4, 0, "a"}, flow{10, 0, ""}, flow{10, 0, ""}, flow{2, 0, "let b"}, flow{10, 0, ""})
 	blocks := []string{"{h1 A}", "{h2}", "{p but{n x}}", "{l{i a{l{i}}}}", "{t{r{c}{c x}}}", "{k}"}
 	for l := range trial.Rows(blocks, 4) {
-		a.has(toks(t, strings.Join(l, "")))
+		a.has(trial.FlatOf(strings.Join(l, "")))
 	}
 }
 
@@ -266,7 +266,7 @@ func TestOfPlaces(t *testing.T) {
 			{Code: 7, Cells: a.cells("num 1 _ a"), At: []int{12, 12, 13, 14}, From: 12, To: 15},
 		},
 	} {
-		l := toks(t, s)
+		l := trial.FlatOf(s)
 		if got, e := fore.Of(a.Trie, l); !slices.EqualFunc(got, want, same) || e != api.OK {
 			t.Errorf("%s: %v, %d, want %v", s, got, e, want)
 		}
@@ -278,12 +278,12 @@ func TestOfPlaces(t *testing.T) {
 func TestOfLarge(t *testing.T) {
 	a := ready(t, trial.Fores())
 	for _, s := range []string{strings.Repeat("{k}", api.MaxNodes), "{p " + strings.Repeat("but B1. ", 1000) + "x}", "{p " + strings.Repeat("a", 8000) + "}"} {
-		l := toks(t, s)
+		l := trial.FlatOf(s)
 		if f := a.has(l); len(f) != strings.Count(s, "{") || f[len(f)-1].To != len(l)-1 {
 			t.Errorf("%s: %d flows", trial.Shown(s), len(f))
 		}
 	}
-	a.has(toks(t, strings.Repeat("{l{i ", api.MaxLists)+"{s{e{n x}}}"+strings.Repeat("}}", api.MaxLists)))
+	a.has(trial.FlatOf(strings.Repeat("{l{i ", api.MaxLists) + "{s{e{n x}}}" + strings.Repeat("}}", api.MaxLists)))
 }
 
 // Each byte that a text may have, in a flow of each sort.

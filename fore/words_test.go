@@ -3,15 +3,12 @@ package fore_test
 import (
 	"regexp"
 	"slices"
-	"strings"
 	"testing"
 
 	"stylus/api"
 	"stylus/chunk"
 	"stylus/flat"
 	"stylus/fore"
-	"stylus/norm"
-	"stylus/tree"
 	"stylus/trial"
 	"stylus/trie"
 )
@@ -200,31 +197,5 @@ func (a asked) refusedOf(l []api.Tok, err api.Errno) {
 	}
 }
 
-// cells is those of rules by their Lefts, with one space between; a _ is a blank.
-func (a asked) cells(lefts string) (s string) {
-	a.Helper()
-	for _, left := range strings.Fields(lefts) {
-		i := slices.IndexFunc(a.rules, func(x api.Rule) bool { return x.Left == left })
-		switch {
-		case left == "_":
-			s += "\x00"
-		case i < 0:
-			a.Fatalf("no rule %s", left)
-		default:
-			s += a.rules[i].Cells
-		}
-	}
-	return s
-}
-
-// toks is the tokens of a source, normalised.
-func toks(t *testing.T, s string) []api.Tok {
-	t.Helper()
-	nodes, _, e := tree.Parse(s)
-	n, f := norm.Of(nodes)
-	l, g := flat.Of(n)
-	if e != api.OK || f != api.OK || g != api.OK {
-		t.Fatalf("%s: %d, %d, %d", trial.Shown(s), e, f, g)
-	}
-	return l
-}
+// cells is those of rules by their Lefts.
+func (a asked) cells(lefts string) string { return trial.CellsOf(a.rules, lefts) }

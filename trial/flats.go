@@ -30,6 +30,18 @@ func Flats() iter.Seq[[]api.Tok] {
 	}
 }
 
+// FlatOf is the tokens of a source, normalised, which must be one's, for a test
+// that wants others than it says would show nothing.
+func FlatOf(source string) []api.Tok {
+	t, _, e := tree.Parse(source)
+	n, f := norm.Of(t)
+	l, g := flat.Of(n)
+	if e != api.OK || f != api.OK || g != api.OK {
+		panic("trial: no source: " + Shown(source))
+	}
+	return l
+}
+
 // flatTrees goes over those trees, not normalised, some of them more than once.
 func flatTrees() iter.Seq[[]api.Node] {
 	return func(yield func([]api.Node) bool) {

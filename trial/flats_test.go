@@ -53,3 +53,15 @@ func TestFlatsLeft(t *testing.T) {
 		}
 	}
 }
+
+func TestFlatOf(t *testing.T) {
+	if s := trial.Told(trial.FlatOf("{p  a {e b }}")); s != "<pa <eb>e>p" || trial.FlatOf("") != nil {
+		t.Errorf("%s", s)
+	}
+	defer func() {
+		if s, ok := recover().(string); !ok || !strings.HasSuffix(s, ": {p") {
+			t.Errorf("%q", s)
+		}
+	}()
+	t.Error(trial.FlatOf("{p"))
+}

@@ -218,6 +218,34 @@ func Tables() [][]api.Rule {
 	return [][]api.Rule{Table(), Fores(), Alike(), Ordinary(), Full(), Packed()}
 }
 
+// whats is the words of rules' Whats, in their order.
+const whats = "any begin inner end word mark digit sign"
+
+// CellsOf is the cells of rules by their Lefts, with a space between: of the first
+// rule with that Left, or, where its What's word and : stand ahead, as in end:ness,
+// of the one of both; a _ is a blank. There must be such rules, for a test that
+// wants other cells than it says would show nothing.
+func CellsOf(l []api.Rule, lefts string) string {
+	s := ""
+	for _, name := range strings.Fields(lefts) {
+		what, left, _ := strings.Cut(name, ":")
+		about := 1 + slices.Index(strings.Fields(whats), what)
+		if about == 0 {
+			left = name
+		}
+		i := slices.IndexFunc(l, func(x api.Rule) bool { return x.Left == left && (about == 0 || x.What == about) })
+		switch {
+		case name == "_":
+			s += "\x00"
+		case i < 0:
+			panic("trial: no rule " + name)
+		default:
+			s += l[i].Cells
+		}
+	}
+	return s
+}
+
 // InRow says the document's words on a rule and a row of a table.
 func InRow(x api.Rule, row int) bool {
 	switch row {

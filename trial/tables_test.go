@@ -53,6 +53,28 @@ func TestTables(t *testing.T) {
 	}
 }
 
+func TestCellsOf(t *testing.T) {
+	l := trial.Ordinary()
+	for lefts, want := range map[string]string{
+		"": "", "a": "\x01", "_ b  _": "\x00\x03\x00", "con e+ 1": "\x28\x09\x28\x01\x01", ":": "\x12", ". ( a": "\x32\x10\x23\x01",
+		"any:a begin:a inner:a word:a": "\x01\x30\x03\x28\x02\x21", "end:ness mark:: digit:1 sign:cap": "\x30\x0f\x12\x01\x20",
+	} {
+		if got := trial.CellsOf(l, lefts); got != want {
+			t.Errorf("%s: %q, want %q", lefts, got, want)
+		}
+	}
+	for _, name := range []string{"ba", "end:and", "mark:a", "many:a", "a:b"} {
+		func() {
+			defer func() {
+				if s, ok := recover().(string); !ok || !strings.HasSuffix(s, " "+name) {
+					t.Errorf("%q", s)
+				}
+			}()
+			t.Error(trial.CellsOf(l, name))
+		}()
+	}
+}
+
 func TestFill(t *testing.T) {
 	l := trial.Ordinary()
 	if got := trial.Fill(l, 5); !slices.Equal(got, l) {

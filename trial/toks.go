@@ -1,6 +1,11 @@
 package trial
 
-import "stylus/api"
+import (
+	"iter"
+	"strings"
+
+	"stylus/api"
+)
 
 // The bytes by which tokens are told: an opening and a closing have theirs
 // ahead of the kind's letter, what is none has the third one.
@@ -46,4 +51,30 @@ func Told(l []api.Tok) string {
 		s = append(s, x.Ch)
 	}
 	return string(s)
+}
+
+// textPieces is tokens as texts, of each sort some, and rows of letters that one
+// rule may be about.
+var textPieces = [10]string{"con", "THE", "And", "it", "X", "1", "<e", "but", " ", "can"}
+
+// TextToks goes over the tokens of all short texts of a few sorts of tokens each,
+// and of pieces side by side. Some come more than once.
+func TextToks() iter.Seq[[]api.Tok] {
+	return func(yield func([]api.Tok) bool) {
+		for _, x := range []struct {
+			toks string
+			most int
+		}{{"ab B", 5}, {"a1 .<e>e", 4}, {"bB 1<e", 4}, {"d D", 5}, {"st S", 4}, {"12 ,", 4}, {" <s>s<n>n", 4}} {
+			for l := range Rows(Toks(x.toks), x.most) {
+				if !yield(l) {
+					return
+				}
+			}
+		}
+		for l := range Rows(textPieces[:], 3) {
+			if !yield(Toks(strings.Join(l, ""))) {
+				return
+			}
+		}
+	}
 }

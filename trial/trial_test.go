@@ -191,3 +191,28 @@ func TestToks(t *testing.T) {
 		t.Errorf("%q", s)
 	}
 }
+
+// Each of them is a text's, and there are many, of each sort of token.
+func TestTextToks(t *testing.T) {
+	seen := map[string]bool{}
+	for l := range trial.TextToks() {
+		seen[trial.Told(l)] = true
+	}
+	for _, s := range []string{"", " ", "abB a", "<e1.>e", "ddD D", "THEbut ", "  <s>n"} {
+		if !seen[s] {
+			t.Errorf("%s does not come", s)
+		}
+	}
+	if len(seen) < 5000 {
+		t.Errorf("%d texts", len(seen))
+	}
+	for most := 1; most < 20000; most = 3*most + 1 {
+		n := 0
+		for range trial.TextToks() {
+			n++
+			if n == most {
+				break
+			}
+		}
+	}
+}
